@@ -6,31 +6,9 @@ import (
 	"testing"
 
 	"patchbay/api"
+	"patchbay/plays"
 	"patchbay/turn"
 )
-
-// watch is a gate that looks ahead of each of its thread's steps, when all operations that were begun are done.
-type watch struct {
-	gate api.Gate
-	look func()
-}
-
-func (w watch) Step(m api.Mark) {
-	w.look()
-	w.gate.Step(m)
-}
-
-// watched answers the threads, each with a look ahead of all its steps and at its end.
-func watched(look func(), threads ...func(g api.Gate)) []func(g api.Gate) {
-	var all []func(g api.Gate)
-	for _, body := range threads {
-		all = append(all, func(g api.Gate) {
-			defer look()
-			body(watch{g, look})
-		})
-	}
-	return all
-}
 
 func TestP33NeverAboveMost(t *testing.T) {
 	type ask struct {
@@ -66,7 +44,7 @@ func TestP33NeverAboveMost(t *testing.T) {
 					}
 				})
 			}
-			return watched(func() {
+			return plays.Watched(func() {
 				if v, _ := c.Get(nil); v > x.most {
 					t.Errorf("from %d: %d, above %d", x.start, v, x.most)
 				}
@@ -89,7 +67,7 @@ func TestP34OneSetAloneSaysTrue(t *testing.T) {
 		}}, 3)
 	}, func(p api.Played) {
 		if set, _ := f.Get(nil); first != 1 || !set {
-			t.Errorf("by %v: %d Sets said true, it is set: %v", threadsOf(p.Trace), first, set)
+			t.Errorf("by %v: %d Sets said true, it is set: %v", plays.Order(p.Trace), first, set)
 		}
 	})
 }
@@ -116,10 +94,10 @@ func TestP34SetsAndClearsComeInTurns(t *testing.T) {
 		}
 	}, func(p api.Played) {
 		if !strings.HasPrefix("SCSCSCSC", said) {
-			t.Errorf("by %v: %s", threadsOf(p.Trace), said)
+			t.Errorf("by %v: %s", plays.Order(p.Trace), said)
 		}
 		if set, _ := f.Get(nil); set != (len(said)%2 == 1) {
-			t.Errorf("by %v: %s, and it is set: %v", threadsOf(p.Trace), said, set)
+			t.Errorf("by %v: %s, and it is set: %v", plays.Order(p.Trace), said, set)
 		}
 	})
 }
@@ -148,7 +126,7 @@ func TestP34AMaxThatSaysTrueIsAboveAll(t *testing.T) {
 					}
 				})
 			}
-			return watched(func() {
+			return plays.Watched(func() {
 				v, _ := c.Get(nil)
 				had = append(had, v)
 			}, threads...)
@@ -156,7 +134,7 @@ func TestP34AMaxThatSaysTrueIsAboveAll(t *testing.T) {
 			counterIs(t, c, slices.Max(append(slices.Concat(x.threads...), x.start)))
 			// What it had, each number once, is what it began with and what the true ones put: each above all ahead of it.
 			if want := append([]uint64{x.start}, rose...); !slices.Equal(slices.Compact(had), want) || !slices.IsSorted(want) || len(slices.Compact(slices.Clone(want))) != len(want) {
-				t.Errorf("by %v: it had %v, true said %v", threadsOf(p.Trace), had, rose)
+				t.Errorf("by %v: it had %v, true said %v", plays.Order(p.Trace), had, rose)
 			}
 		})
 	}
@@ -189,7 +167,7 @@ func TestP35EachPutHasANumberOfItsOwn(t *testing.T) {
 				t.Errorf("Get: %v, %d, %v, not %v", v, n, e, put[n])
 			}
 		}
-		return watched(func() {
+		return plays.Watched(func() {
 			v, n, _ := b.Get(nil)
 			if v != put[n] {
 				t.Errorf("%v has the number %d, not %v", v, n, put[n])
@@ -198,7 +176,7 @@ func TestP35EachPutHasANumberOfItsOwn(t *testing.T) {
 		}, append(threads, reader)...)
 	}, func(p api.Played) {
 		if !slices.Equal(slices.Compact(numbers), []uint64{0, 1, 2, 3, 4}) {
-			t.Errorf("by %v: the numbers %v", threadsOf(p.Trace), numbers)
+			t.Errorf("by %v: the numbers %v", plays.Order(p.Trace), numbers)
 		}
 	})
 }
@@ -221,7 +199,7 @@ func TestP35OneTryOfANumberAtMostSaysTrue(t *testing.T) {
 	}, func(p api.Played) {
 		_, n, _ := b.Get(nil)
 		if won[0] != 1 || won[1] > 1 || n != uint64(won[0]+won[1]) {
-			t.Errorf("by %v: %v said true, the number is %d", threadsOf(p.Trace), won, n)
+			t.Errorf("by %v: %v said true, the number is %d", plays.Order(p.Trace), won, n)
 		}
 	})
 }

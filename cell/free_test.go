@@ -5,7 +5,7 @@ import (
 	"testing"
 
 	"patchbay/api"
-	"patchbay/turn"
+	"patchbay/plays"
 )
 
 const (
@@ -16,11 +16,7 @@ const (
 // free runs as many threads at a time, each with its number.
 func free(t *testing.T, body func(k int)) {
 	t.Helper()
-	var threads []func(g api.Gate)
-	for k := range manyThreads {
-		threads = append(threads, func(api.Gate) { body(k) })
-	}
-	if e := turn.Free(threads...); e != api.OK {
+	if e := plays.Free(manyThreads, body); e != api.OK {
 		t.Fatalf("Free: %v", e)
 	}
 }

@@ -6,6 +6,7 @@ import (
 	"testing"
 
 	"patchbay/api"
+	"patchbay/plays"
 	"patchbay/turn"
 )
 
@@ -202,7 +203,7 @@ func walk(t *testing.T, w word, walkers []*walker, trace []api.Turned) word {
 			me.now = me.calls[len(me.answers)].first
 		}
 		if want := (api.Mark{Op: me.now.op, Word: 0}); x.Mark != want {
-			t.Fatalf("by %v: thread %d tells %v, not %v", threadsOf(trace), x.Thread, x.Mark, want)
+			t.Fatalf("by %v: thread %d tells %v, not %v", plays.Order(trace), x.Thread, x.Mark, want)
 		}
 		me.ops++
 		then := me.now.do(&w)
@@ -217,7 +218,7 @@ func walk(t *testing.T, w word, walkers []*walker, trace []api.Turned) word {
 		}
 		if me.now = then.next; me.now == nil {
 			if me.ops > 2*me.others+2 {
-				t.Errorf("by %v: a call of thread %d had %d operations, and %d of the others' changed the word", threadsOf(trace), x.Thread, me.ops, me.others)
+				t.Errorf("by %v: a call of thread %d had %d operations, and %d of the others' changed the word", plays.Order(trace), x.Thread, me.ops, me.others)
 			}
 			me.answers, me.ops, me.others = append(me.answers, then.answer), 0, 0
 		}
@@ -252,12 +253,12 @@ func byAllOrders(t *testing.T, begin func() (object, word), threads ...[]call) i
 		end := walk(t, start, walkers, p.Trace)
 		for k, x := range walkers {
 			if !slices.Equal(answers[k], x.answers) {
-				t.Errorf("by %v: thread %d: %q, not %q", threadsOf(p.Trace), k, answers[k], x.answers)
+				t.Errorf("by %v: thread %d: %q, not %q", plays.Order(p.Trace), k, answers[k], x.answers)
 			}
 			failed += x.failed
 		}
 		if got := whatStands(o); got != end {
-			t.Errorf("by %v: at the end %v, not %v", threadsOf(p.Trace), got, end)
+			t.Errorf("by %v: at the end %v, not %v", plays.Order(p.Trace), got, end)
 		}
 	})
 	return failed

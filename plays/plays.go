@@ -1,0 +1,92 @@
+// Package plays holds what the layers' tests share: all plays that there are of some threads, looks into them, and free runs.
+package plays
+
+import (
+	"iter"
+
+	"patchbay/api"
+	"patchbay/turn"
+)
+
+// Every tells the plays of the threads that begin makes, anew for each play: all those whose first turns, so many of them, come in another order. Behind these the threads go round.
+func Every(turns int, begin func() []func(g api.Gate)) iter.Seq[api.Played] {
+	return func(yield func(api.Played) bool) {
+		var from func(order []int) bool
+		from = func(order []int) bool {
+			threads := begin()
+			p, e := turn.Play(order, threads...)
+			if e != api.OK {
+				return false
+			}
+			if !follows(p.Trace, order) {
+				return true // it is another order's play
+			}
+			if !yield(p) {
+				return false
+			}
+			for at := len(order); at < min(turns, len(p.Trace)); at++ {
+				for k := range threads {
+					if k != p.Trace[at].Thread && !from(append(Order(p.Trace[:at]), k)) {
+						return false
+					}
+				}
+			}
+			return true
+		}
+		from(nil)
+	}
+}
+
+// follows tells whether the order's last number had its turn: else that thread had ended.
+func follows(trace []api.Turned, order []int) bool {
+	last := len(order) - 1
+	return last < 0 || last < len(trace) && trace[last].Thread == order[last]
+}
+
+// Order answers a trace as the order that plays the same.
+func Order(trace []api.Turned) []int {
+	var order []int
+	for _, x := range trace {
+		order = append(order, x.Thread)
+	}
+	return order
+}
+
+// Free runs so many threads at a time, each with its number, and waits for them all.
+func Free(threads int, body func(k int)) api.Errno {
+	var all []func(g api.Gate)
+	for k := range threads {
+		all = append(all, func(api.Gate) { body(k) })
+	}
+	return turn.Free(all...)
+}
+
+// Told answers the marks of which a call tells its gate.
+func Told(call func(g api.Gate)) []api.Mark {
+	n := turn.NewNotes()
+	call(n)
+	return n.Marks()
+}
+
+// watch is a gate that looks ahead of each of its thread's steps, when all operations that were begun are done.
+type watch struct {
+	gate api.Gate
+	look func()
+}
+
+func (w watch) Step(m api.Mark) {
+	w.look()
+	w.gate.Step(m)
+}
+
+// Watched answers the threads, each with a look ahead of all its steps and at its end.
+func Watched(look func(), threads ...func(g api.Gate)) []func(g api.Gate) {
+	var all []func(g api.Gate)
+	for _, body := range threads {
+		all = append(all, func(g api.Gate) {
+			defer look()
+			body(watch{g, look})
+		})
+	}
+	return all
+}

@@ -1,0 +1,158 @@
+package plays
+
+import (
+	"slices"
+	"sync"
+	"testing"
+
+	"patchbay/api"
+	"patchbay/turn"
+)
+
+// load is the mark of a load of that word.
+func load(word int) api.Mark {
+	return api.Mark{Op: api.OpLoad, Word: word}
+}
+
+// stepping answers threads with so many steps each.
+func stepping(steps ...int) func() []func(g api.Gate) {
+	return func() []func(g api.Gate) {
+		var threads []func(g api.Gate)
+		for _, n := range steps {
+			threads = append(threads, func(g api.Gate) {
+				for i := range n {
+					g.Step(load(i))
+				}
+			})
+		}
+		return threads
+	}
+}
+
+// ordersOf answers the orders of all plays, rising.
+func ordersOf(turns int, begin func() []func(g api.Gate)) [][]int {
+	var orders [][]int
+	for p := range Every(turns, begin) {
+		orders = append(orders, Order(p.Trace))
+	}
+	slices.SortFunc(orders, slices.Compare)
+	return orders
+}
+
+// equal tells whether two lists of orders are the same.
+func equal(a, b [][]int) bool {
+	return slices.EqualFunc(a, b, slices.Equal)
+}
+
+func TestEveryTellsAllOrdersOnce(t *testing.T) {
+	for _, steps := range [][]int{{3, 2, 2}, {1}, {0}, {4, 4}, {0, 2, 0, 1}, {1, 1, 1, 1, 1}, {5, 1, 0}} {
+		got := ordersOf(api.MaxTurns, stepping(steps...))
+		if want := slices.Collect(turn.Orders(steps...)); !equal(got, want) {
+			t.Errorf("of %v: %v, not %v", steps, got, want)
+		}
+	}
+}
+
+func TestEveryTellsAllFirstTurnsOnce(t *testing.T) {
+	for turns := range 9 {
+		var got, want [][]int
+		for _, order := range ordersOf(turns, stepping(3, 2, 2)) {
+			got = append(got, order[:min(turns, len(order))])
+		}
+		for order := range turn.Orders(3, 2, 2) {
+			want = append(want, order[:min(turns, len(order))])
+		}
+		// Orders that differ behind the first turns alone are one play.
+		if want = slices.CompactFunc(want, slices.Equal); !equal(got, want) {
+			t.Errorf("of %d turns: %v, not %v", turns, got, want)
+		}
+	}
+}
+
+func TestEveryOfThreadsThatHangOnEachOther(t *testing.T) {
+	// The second one goes on till the first one has ended.
+	ended := false
+	begin := func() []func(g api.Gate) {
+		ended = false
+		return []func(g api.Gate){
+			func(g api.Gate) { g.Step(load(0)); g.Step(load(0)); ended = true },
+			func(g api.Gate) {
+				for !ended {
+					g.Step(load(1))
+				}
+			},
+		}
+	}
+	seen := map[int]bool{}
+	for p := range Every(4, begin) {
+		seen[len(p.Trace)] = true
+		if len(p.Cut) != 0 {
+			t.Errorf("by %v: cut %v", Order(p.Trace), p.Cut)
+		}
+	}
+	for n := 3; n <= 7; n++ {
+		if !seen[n] {
+			t.Errorf("no play of %d turns", n)
+		}
+	}
+}
+
+func TestEveryLeftEarlyAndOfNone(t *testing.T) {
+	for most := 1; most < 7; most++ {
+		n := 0
+		for range Every(api.MaxTurns, stepping(2, 2)) {
+			if n++; n == most {
+				break
+			}
+		}
+		if n != most {
+			t.Errorf("%d plays, not %d", n, most)
+		}
+	}
+	for range Every(9, func() []func(g api.Gate) { return nil }) {
+		t.Error("a play of no threads")
+	}
+}
+
+func TestFree(t *testing.T) {
+	for _, n := range []int{1, 2, api.MaxThreads} {
+		// Each waits for all others: so they run at a time.
+		var ran [api.MaxThreads]bool
+		var all sync.WaitGroup
+		all.Add(n)
+		e := Free(n, func(k int) {
+			ran[k] = true
+			all.Done()
+			all.Wait()
+		})
+		if e != api.OK || slices.Contains(ran[:n], false) {
+			t.Errorf("Free of %d: %v, %v", n, e, ran)
+		}
+	}
+	for n, want := range map[int]api.Errno{0: api.ErrArg, api.MaxThreads + 1: api.ErrLong} {
+		if e := Free(n, func(k int) { t.Errorf("%d runs", k) }); e != want {
+			t.Errorf("Free of %d: %v, not %v", n, e, want)
+		}
+	}
+}
+
+func TestTold(t *testing.T) {
+	marks := Told(func(g api.Gate) { stepping(3)()[0](g) })
+	if !slices.Equal(marks, []api.Mark{load(0), load(1), load(2)}) {
+		t.Errorf("%v", marks)
+	}
+}
+
+func TestWatched(t *testing.T) {
+	begun, looks := 0, []int(nil)
+	thread := func(g api.Gate) {
+		for range 2 {
+			g.Step(load(0))
+			begun++
+		}
+	}
+	p, e := turn.Play([]int{0, 1, 1, 0}, Watched(func() { looks = append(looks, begun) }, thread, thread)...)
+	if e != api.OK || !slices.Equal(Order(p.Trace), []int{0, 1, 1, 0}) || !slices.Equal(looks, []int{0, 0, 1, 2, 3, 4}) {
+		t.Errorf("%v, %v: looks %v", e, p, looks)
+	}
+}
