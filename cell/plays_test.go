@@ -384,17 +384,8 @@ func TestP31WhatIsCutOffIsNotDone(t *testing.T) {
 		{"Put", 2, func(g api.Gate) { b.Put(g, "b") }},
 		{"Try", 2, func(g api.Gate) { b.Try(g, 0, "b") }},
 	} {
-		wentOn := false
-		p, e := turn.Play(nil, func(g api.Gate) {
-			// So many turns that the call's last operation is one too many.
-			for range api.MaxTurns + 1 - x.ops {
-				g.Step(api.Mark{})
-			}
-			x.do(g)
-			wentOn = true
-		})
-		if e != api.OK || len(p.Trace) != api.MaxTurns || !slices.Equal(p.Cut, []int{0}) || wentOn {
-			t.Errorf("%s: %v, %d turns, cut %v, went on: %v", x.name, e, len(p.Trace), p.Cut, wentOn)
+		if !plays.CutOff(x.ops-1, x.do) {
+			t.Errorf("%s is not cut off ahead of its last operation", x.name)
 		}
 	}
 	counterIs(t, c, 5)

@@ -283,19 +283,11 @@ func TestP45TwoThreadsByAnOrder(t *testing.T) {
 	}
 }
 
-// cutAt plays a thread that gets, and is cut off ahead of the operation that comes behind so many others of its Get.
+// cutAt lets a thread get till it is cut off, behind so many operations of its Get.
 func cutAt(t *testing.T, ops int, get func(g api.Gate) answer) {
 	t.Helper()
-	wentOn := false
-	p, e := turn.Play(nil, func(g api.Gate) {
-		for range api.MaxTurns - ops {
-			g.Step(api.Mark{Op: api.OpSwap, Word: 99})
-		}
-		get(g)
-		wentOn = true
-	})
-	if e != api.OK || len(p.Trace) != api.MaxTurns || !slices.Equal(p.Cut, []int{0}) || wentOn {
-		t.Fatalf("behind %d operations: %v, %d turns, cut %v, went on: %v", ops, e, len(p.Trace), p.Cut, wentOn)
+	if !plays.CutOff(ops, func(g api.Gate) { get(g) }) {
+		t.Fatalf("not cut off behind %d operations", ops)
 	}
 }
 

@@ -5,6 +5,7 @@ import (
 	"sync/atomic"
 
 	"patchbay/api"
+	"patchbay/gates"
 )
 
 // The states.
@@ -51,10 +52,10 @@ func (s *slot[T]) get(g api.Gate, word int, make func() (T, api.Errno)) (T, api.
 		return s.getFree(make)
 	}
 	for {
-		tell(g, api.OpLoad, word)
+		gates.Tell(g, api.OpLoad, word)
 		switch state := s.state.Load(); state {
 		case nothing:
-			tell(g, api.OpCAS, word)
+			gates.Tell(g, api.OpCAS, word)
 			if s.state.CompareAndSwap(nothing, making) {
 				s.fill(g, word, make)
 				return s.answer(s.end)
@@ -84,7 +85,7 @@ func (s *slot[T]) getFree(make func() (T, api.Errno)) (T, api.Errno) {
 func (s *slot[T]) fill(g api.Gate, word int, make func() (T, api.Errno)) {
 	// Deferred: make may also end its thread, without a panic and without coming back.
 	defer func() {
-		tell(g, api.OpStore, word)
+		gates.Tell(g, api.OpStore, word)
 		s.state.Store(s.end)
 	}()
 	s.call(make)
@@ -114,11 +115,4 @@ func (s *slot[T]) answer(state uint64) (T, api.Errno) {
 		return none, s.number
 	}
 	return none, api.ErrBroken
-}
-
-// tell tells the gate of an operation that is about to be done.
-func tell(g api.Gate, op api.OpKind, word int) {
-	if g != nil {
-		g.Step(api.Mark{Op: op, Word: word})
-	}
 }

@@ -1,4 +1,4 @@
-// Package plays holds what the layers' tests share: all plays that there are of some threads, looks into them, and free runs.
+// Package plays holds what the layers' tests share: all plays that there are of some threads, looks into them, threads that are cut off, and free runs.
 package plays
 
 import (
@@ -89,4 +89,17 @@ func Watched(look func(), threads ...func(g api.Gate)) []func(g api.Gate) {
 		})
 	}
 	return all
+}
+
+// CutOff plays a thread that does the call, alone, and is cut off ahead of the operation that comes behind so many others of it; it tells whether it was.
+func CutOff(ops int, call func(g api.Gate)) bool {
+	ended := false
+	p, e := turn.Play(nil, func(g api.Gate) {
+		for range api.MaxTurns - ops {
+			g.Step(api.Mark{})
+		}
+		call(g)
+		ended = true
+	})
+	return e == api.OK && len(p.Trace) == api.MaxTurns && len(p.Cut) == 1 && !ended
 }

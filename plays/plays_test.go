@@ -156,3 +156,18 @@ func TestWatched(t *testing.T) {
 		t.Errorf("%v, %v: looks %v", e, p, looks)
 	}
 }
+
+func TestCutOff(t *testing.T) {
+	for ops := range 6 {
+		begun := 0
+		cut := CutOff(ops, func(g api.Gate) {
+			for i := range 4 {
+				g.Step(load(i))
+				begun++
+			}
+		})
+		if cut != (ops < 4) || begun != min(ops, 4) {
+			t.Errorf("behind %d: %v, %d operations", ops, cut, begun)
+		}
+	}
+}
