@@ -8,6 +8,7 @@ import (
 	"testing"
 
 	"patchbay/api"
+	"patchbay/plays"
 	"patchbay/turn"
 )
 
@@ -157,7 +158,7 @@ func TestP44AMakeThatEndsItsThread(t *testing.T) {
 func TestP44AMakeThatEndsItsThreadInAPlay(t *testing.T) {
 	o := newSingle(leaving)
 	p, e := turn.Play([]int{0, 0, 1, 0}, func(g api.Gate) { o.get(g, 0) }, func(g api.Gate) { gets(t, "the other one", o.get(g, 0), answer{0, api.ErrBroken}) })
-	want := turned([]int{0, 0, 1, 0, 1}, api.OpLoad, api.OpCAS, api.OpLoad, api.OpStore, api.OpLoad)
+	want := plays.Trace([]int{0, 0, 1, 0, 1}, at(0, api.OpLoad, api.OpCAS, api.OpLoad, api.OpStore, api.OpLoad)...)
 	if e != api.OK || !slices.Equal(p.Trace, want) || len(p.Cut) != 0 {
 		t.Errorf("%v, %v, cut %v, not %v", e, p.Trace, p.Cut, want)
 	}

@@ -37,6 +37,33 @@ func Every(turns int, begin func() []func(g api.Gate)) iter.Seq[api.Played] {
 	}
 }
 
+// Test is whom a test's errors are told: a *testing.T.
+type Test interface {
+	Helper()
+	Errorf(text string, about ...any)
+	Fatalf(text string, about ...any)
+}
+
+// Whole tells the plays that Every tells. It is the test's end if a thread of one is cut off, and an error if there are not at least two of them.
+func Whole(t Test, turns int, begin func() []func(g api.Gate)) iter.Seq[api.Played] {
+	return func(yield func(api.Played) bool) {
+		t.Helper()
+		told := 0
+		for p := range Every(turns, begin) {
+			if len(p.Cut) != 0 {
+				t.Fatalf("by %v: cut %v", Order(p.Trace), p.Cut)
+			}
+			told++
+			if !yield(p) {
+				return
+			}
+		}
+		if told < 2 {
+			t.Errorf("%d plays", told)
+		}
+	}
+}
+
 // follows tells whether the order's last number had its turn: else that thread had ended.
 func follows(trace []api.Turned, order []int) bool {
 	last := len(order) - 1
@@ -50,6 +77,15 @@ func Order(trace []api.Turned) []int {
 		order = append(order, x.Thread)
 	}
 	return order
+}
+
+// Trace answers the trace in which these threads did these operations.
+func Trace(threads []int, marks ...api.Mark) []api.Turned {
+	var trace []api.Turned
+	for i, m := range marks {
+		trace = append(trace, api.Turned{Thread: threads[i], Mark: m})
+	}
+	return trace
 }
 
 // Free runs so many threads at a time, each with its number, and waits for them all.

@@ -1,6 +1,7 @@
 package plays
 
 import (
+	"fmt"
 	"slices"
 	"sync"
 	"testing"
@@ -111,6 +112,69 @@ func TestEveryLeftEarlyAndOfNone(t *testing.T) {
 	}
 	for range Every(9, func() []func(g api.Gate) { return nil }) {
 		t.Error("a play of no threads")
+	}
+}
+
+// telling notes what a test is told; its end is a panic.
+type telling struct{ texts []string }
+
+func (x *telling) Helper() {}
+
+func (x *telling) Errorf(text string, about ...any) {
+	x.texts = append(x.texts, fmt.Sprintf(text, about...))
+}
+
+func (x *telling) Fatalf(text string, about ...any) {
+	x.Errorf(text, about...)
+	panic("ended")
+}
+
+// wholeOf answers how many plays Whole tells, and what a test is told then.
+func wholeOf(turns int, begin func() []func(g api.Gate), most int) (n int, texts []string, ended bool) {
+	x := &telling{}
+	defer func() { texts, ended = x.texts, recover() != nil }()
+	for range Whole(x, turns, begin) {
+		if n++; n == most {
+			break
+		}
+	}
+	return
+}
+
+func TestWhole(t *testing.T) {
+	long := func() []func(g api.Gate) {
+		return append(stepping(1)(), func(g api.Gate) {
+			for range api.MaxTurns {
+				g.Step(load(0))
+			}
+		})
+	}
+	for i, x := range []struct {
+		turns int
+		begin func() []func(g api.Gate)
+		most  int
+		n     int
+		texts int
+		ended bool
+	}{
+		{api.MaxTurns, stepping(2, 2), 99, 6, 0, false},
+		{2, stepping(2, 2), 99, 4, 0, false},
+		{api.MaxTurns, stepping(1, 1), 99, 2, 0, false},
+		{api.MaxTurns, stepping(1, 1), 1, 1, 0, false}, // left early
+		{api.MaxTurns, stepping(3), 99, 1, 1, false},
+		{api.MaxTurns, stepping(), 99, 0, 1, false},
+		{api.MaxTurns, long, 99, 0, 1, true},
+	} {
+		if n, texts, ended := wholeOf(x.turns, x.begin, x.most); n != x.n || len(texts) != x.texts || ended != x.ended {
+			t.Errorf("%d: %d plays, told %q, ended: %v", i, n, texts, ended)
+		}
+	}
+}
+
+func TestTrace(t *testing.T) {
+	want, _ := turn.Play([]int{1, 0, 1, 0}, stepping(2, 2)()...)
+	if got := Trace([]int{1, 0, 1, 0}, load(0), load(0), load(1), load(1)); !slices.Equal(got, want.Trace) || len(Trace(nil)) != 0 {
+		t.Errorf("%v, not %v", got, want.Trace)
 	}
 }
 

@@ -15,21 +15,21 @@ func follows(t *testing.T, order []int, start []uint64, calls []done, r *seq.Rec
 	of := map[uint64][]uint64{0: start}
 	last := uint64(0)
 	for _, d := range calls {
-		if d.ask.words == nil || d.answer.e != api.OK {
+		if d.Ask.words == nil || d.Answer.e != api.OK {
 			continue
 		}
 		// Whoever has written answers as soon as it has, so the later one's version is greater than all there are.
-		if v := d.answer.version; v <= last || v%2 != 0 {
+		if v := d.Answer.version; v <= last || v%2 != 0 {
 			t.Errorf("by %v: the version %d behind %d", order, v, last)
 		}
-		last = d.answer.version
-		of[last] = d.ask.words
+		last = d.Answer.version
+		of[last] = d.Ask.words
 	}
 	for _, d := range calls {
-		if d.answer.e != api.OK {
+		if d.Answer.e != api.OK {
 			refused(t, order, d, calls)
-		} else if d.ask.words == nil {
-			is(t, "a Read", d.answer, answer{of[d.answer.version], d.answer.version, api.OK})
+		} else if d.Ask.words == nil {
+			is(t, "a Read", d.Answer, answer{of[d.Answer.version], d.Answer.version, api.OK})
 		}
 	}
 	recordIs(t, "at the end", r, last, of[last]...)
@@ -39,12 +39,12 @@ func follows(t *testing.T, order []int, start []uint64, calls []done, r *seq.Rec
 func refused(t *testing.T, order []int, d done, calls []done) {
 	t.Helper()
 	want := api.ErrTorn
-	if d.ask.words != nil {
+	if d.Ask.words != nil {
 		want = api.ErrBusy
 	}
-	is(t, "a refused call", d.answer, answer{nil, 0, want})
+	is(t, "a refused call", d.Answer, answer{nil, 0, want})
 	for _, x := range calls {
-		if x.thread != d.thread && x.ask.words != nil && x.from <= d.to && d.from <= x.to {
+		if x.Thread != d.Thread && x.Ask.words != nil && x.From <= d.To && d.From <= x.To {
 			return
 		}
 	}

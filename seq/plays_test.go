@@ -7,7 +7,6 @@ import (
 	"patchbay/api"
 	"patchbay/plays"
 	"patchbay/seq"
-	"patchbay/turn"
 )
 
 // object is a record, or the twin of one.
@@ -98,69 +97,28 @@ func (a ask) of(o object, g api.Gate) answer {
 	return read(o.Read(g))
 }
 
-// done is a call that has answered: what it answered; of all operations of the play the numbers of its first and of its last one.
-type done struct {
-	thread   int
-	ask      ask
-	answer   answer
-	from, to int
+// done is a call of a play that has answered.
+type done = plays.Done[ask, answer]
+
+// same tells whether two calls are alike; what they asked counts by its place in the play.
+func same(a, b done) bool {
+	return a.Thread == b.Thread && a.From == b.From && a.To == b.To && a.Answer.same(b.Answer)
 }
 
-func (d done) same(other done) bool {
-	return d.thread == other.thread && d.from == other.from && d.to == other.to && d.answer.same(other.answer)
-}
-
-// noting is a gate that counts all operations of a play, and notes which were its call's first and last one.
-type noting struct {
-	gate     api.Gate
-	all      *int
-	from, to int
-}
-
-func (n *noting) Step(m api.Mark) {
-	n.gate.Step(m)
-	*n.all++
-	if n.from == 0 {
-		n.from = *n.all
-	}
-	n.to = *n.all
-}
-
-// begin answers the threads that ask so, and the list of the calls that have answered, in the order in which they did.
-func begin(o object, asks [][]ask) (*[]done, []func(g api.Gate)) {
-	all, calls := 0, &[]done{}
-	var threads []func(g api.Gate)
-	for k, list := range asks {
-		threads = append(threads, func(g api.Gate) {
-			for _, a := range list {
-				n := &noting{gate: g, all: &all}
-				got := a.of(o, n)
-				*calls = append(*calls, done{k, a, got, n.from, n.to})
-			}
-		})
-	}
-	return calls, threads
+// asking answers what asks that object.
+func asking(o object) func(a ask, g api.Gate) answer {
+	return func(a ask, g api.Gate) answer { return a.of(o, g) }
 }
 
 // everyPlay plays what threads do that ask so of a new record, by all orders of so many first turns, and shows each play: the record at its end, and the calls.
 func everyPlay(t *testing.T, turns int, start []uint64, asks [][]ask, show func(p api.Played, r *seq.Record, calls []done)) {
 	t.Helper()
 	var r *seq.Record
-	var calls *[]done
-	shown := 0
-	for p := range plays.Every(turns, func() (threads []func(g api.Gate)) {
+	for p, calls := range plays.EveryAsked(t, turns, asks, func() func(a ask, g api.Gate) answer {
 		r = made(t, start...)
-		calls, threads = begin(r, asks)
-		return threads
+		return asking(r)
 	}) {
-		if len(p.Cut) != 0 {
-			t.Fatalf("by %v: cut %v", plays.Order(p.Trace), p.Cut)
-		}
-		shown++
-		show(p, r, *calls)
-	}
-	if shown < 2 {
-		t.Errorf("%d plays", shown)
+		show(p, r, calls)
 	}
 }
 
@@ -170,10 +128,9 @@ func byAllOrders(t *testing.T, turns int, start []uint64, asks ...[]ask) meeting
 	var met meetings
 	everyPlay(t, turns, start, asks, func(p api.Played, r *seq.Record, calls []done) {
 		w := &twin{words: slices.Clone(start), met: met}
-		want, threads := begin(w, asks)
-		q, _ := turn.Play(plays.Order(p.Trace), threads...)
-		if !slices.Equal(p.Trace, q.Trace) || !slices.EqualFunc(calls, *want, done.same) {
-			t.Fatalf("by %v: %v, %v; not %v, %v", plays.Order(p.Trace), p.Trace, calls, q.Trace, *want)
+		q, want, _ := plays.Asked(plays.Order(p.Trace), asks, asking(w))
+		if !slices.Equal(p.Trace, q.Trace) || !slices.EqualFunc(calls, want, same) {
+			t.Fatalf("by %v: %v, %v; not %v, %v", plays.Order(p.Trace), p.Trace, calls, q.Trace, want)
 		}
 		recordIs(t, "at the end", r, w.version, w.words...)
 		met = w.met
@@ -243,15 +200,6 @@ func TestP55RecordsOfAllSizesByAllOrders(t *testing.T) {
 	}
 }
 
-// turned answers a trace.
-func turned(threads []int, marks ...api.Mark) []api.Turned {
-	var trace []api.Turned
-	for i, m := range marks {
-		trace = append(trace, api.Turned{Thread: threads[i], Mark: m})
-	}
-	return trace
-}
-
 func TestP55ExamplesByOrders(t *testing.T) {
 	for _, x := range []struct {
 		name    string
@@ -277,13 +225,12 @@ func TestP55ExamplesByOrders(t *testing.T) {
 			[]answer{{[]uint64{7, 8}, 2, api.OK}, {nil, 2, api.OK}},
 			[]int{1, 1, 0, 1, 1, 1, 0, 0, 0, 0}, []api.Mark{load(0), cas(0), load(0), store(1), store(2), store(0), load(0), load(1), load(2), load(0)}},
 	} {
-		calls, threads := begin(made(t, 5, 6), x.asks)
-		p, e := turn.Play(x.order, threads...)
-		if want := turned(x.threads, x.marks...); e != api.OK || !slices.Equal(p.Trace, want) {
+		p, calls, e := plays.Asked(x.order, x.asks, asking(made(t, 5, 6)))
+		if want := plays.Trace(x.threads, x.marks...); e != api.OK || !slices.Equal(p.Trace, want) {
 			t.Errorf("%s: %v, %v, not %v", x.name, e, p.Trace, want)
 		}
-		for _, d := range *calls {
-			is(t, x.name, d.answer, x.want[d.thread])
+		for _, d := range calls {
+			is(t, x.name, d.Answer, x.want[d.Thread])
 		}
 	}
 }
