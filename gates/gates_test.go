@@ -23,3 +23,53 @@ func TestTellNobody(t *testing.T) {
 	Tell(nil, api.OpLoad, 0)
 	Tell((*turn.Notes)(nil), api.OpLoad, 0)
 }
+
+func TestWords(t *testing.T) {
+	w := make(Words, 3)
+	n := turn.NewNotes()
+	for _, g := range []api.Gate{n, nil} {
+		w.Store(g, 2, 7)
+		w.Store(g, 0, 1<<64-1)
+		if v := w.Load(g, 2); v != 7 {
+			t.Errorf("Load: %d", v)
+		}
+		for _, x := range []struct {
+			word     int
+			from, to uint64
+			want     bool
+			behind   uint64
+		}{{2, 8, 9, false, 7}, {2, 7, 9, true, 9}, {2, 9, 9, true, 9}, {0, 1<<64 - 1, 0, true, 0}, {1, 0, 5, true, 5}} {
+			if ok := w.CAS(g, x.word, x.from, x.to); ok != x.want || w[x.word].Load() != x.behind {
+				t.Errorf("CAS: %v of %v, %d stands there", ok, x, w[x.word].Load())
+			}
+		}
+		w.Store(g, 1, 0)
+	}
+	want := []api.Mark{{Op: api.OpStore, Word: 2}, {Op: api.OpStore, Word: 0}, {Op: api.OpLoad, Word: 2}, {Op: api.OpCAS, Word: 2}, {Op: api.OpCAS, Word: 2},
+		{Op: api.OpCAS, Word: 2}, {Op: api.OpCAS, Word: 0}, {Op: api.OpCAS, Word: 1}, {Op: api.OpStore, Word: 1}}
+	if got := n.Marks(); !slices.Equal(got, want) {
+		t.Errorf("%v, not %v", got, want)
+	}
+}
+
+// TestWordsTellAheadOfTheOperation: whoever has turns while one is held up meets the words as they were.
+func TestWordsTellAheadOfTheOperation(t *testing.T) {
+	w := make(Words, 1)
+	var seen []uint64
+	var swapped bool
+	first := func(g api.Gate) {
+		w.Store(g, 0, 5)
+		swapped = w.CAS(g, 0, 5, 6)
+		seen = append(seen, w.Load(g, 0))
+	}
+	second := func(g api.Gate) {
+		for range 2 {
+			seen = append(seen, w.Load(g, 0))
+		}
+		w.Store(g, 0, 9)
+	}
+	p, e := turn.Play([]int{1, 0, 1, 0, 1, 0}, first, second)
+	if want := []uint64{0, 5, 9}; e != api.OK || len(p.Trace) != 6 || !slices.Equal(seen, want) || !swapped {
+		t.Errorf("%v, %v: saw %v, not %v", e, p, seen, want)
+	}
+}

@@ -129,15 +129,23 @@ func (x *telling) Fatalf(text string, about ...any) {
 	panic("ended")
 }
 
-// wholeOf answers how many plays Whole tells, and what a test is told then.
-func wholeOf(turns int, begin func() []func(g api.Gate), most int) (n int, texts []string, ended bool) {
+// ending tells what a test is told, and whether it ends it.
+func ending(do func(t Test)) (texts []string, ended bool) {
 	x := &telling{}
 	defer func() { texts, ended = x.texts, recover() != nil }()
-	for range Whole(x, turns, begin) {
-		if n++; n == most {
-			break
+	do(x)
+	return
+}
+
+// wholeOf answers how many plays Whole tells, and what a test is told then.
+func wholeOf(turns int, begin func() []func(g api.Gate), most int) (n int, texts []string, ended bool) {
+	texts, ended = ending(func(t Test) {
+		for range Whole(t, turns, begin) {
+			if n++; n == most {
+				break
+			}
 		}
-	}
+	})
 	return
 }
 

@@ -1,7 +1,6 @@
 package ring
 
 import (
-	"fmt"
 	"runtime"
 	"sync"
 	"sync/atomic"
@@ -208,11 +207,6 @@ func TestP64FreeLensBesidePutsAlone(t *testing.T) {
 	})
 }
 
-// outcome tells what threads were answered, and what stands in the ring then.
-func outcome(answers [][]answer, r *Ring) string {
-	return fmt.Sprint(answers, wordsOf(r))
-}
-
 // TestP62FreeAnswersAreThoseOfAnOrder: so also where several put and take at a time.
 func TestP62FreeAnswersAreThoseOfAnOrder(t *testing.T) {
 	for _, x := range []struct {
@@ -224,27 +218,7 @@ func TestP62FreeAnswersAreThoseOfAnOrder(t *testing.T) {
 		{[]uint64{0, 2, 5, 6}, [][]ask{takes(1), takes(1), lens(1)}},
 		{[]uint64{0, 1, 5}, [][]ask{puts(6), takes(1), takes(1)}},
 	} {
-		known := map[string]bool{}
-		everyPlay(t, api.MaxTurns, x.words, x.asks, func(p api.Played, r *Ring, calls []done) {
-			answers := make([][]answer, len(x.asks))
-			for _, d := range calls {
-				answers[d.Thread] = append(answers[d.Thread], d.Answer)
-			}
-			known[outcome(answers, r)] = true
-		})
-		for i := range 2000 {
-			r := madeOf(t, x.words)
-			answers := make([][]answer, len(x.asks))
-			free(t, len(x.asks), func(k int) {
-				g := gatesOfTwo()[i%4][k%2]
-				for _, a := range x.asks[k] {
-					answers[k] = append(answers[k], a.of(r, g))
-				}
-			})
-			if got := outcome(answers, r); !known[got] {
-				t.Fatalf("%s comes by no order", got)
-			}
-		}
+		plays.AsOfAnOrder(t, 2000, func(run, k int) api.Gate { return gatesOfTwo()[run%4][k%2] }, x.asks, func() asked { return asIs(madeOf(t, x.words)) })
 	}
 }
 

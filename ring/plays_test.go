@@ -87,20 +87,25 @@ func everyPlay(t *testing.T, turns int, words []uint64, asks [][]ask, show func(
 	}
 }
 
+// asked is a ring, or its twin, that is asked in plays.
+type asked = plays.Object[ask, answer]
+
+// asIs answers a ring as one that is asked in plays.
+func asIs(r *Ring) asked {
+	return asked{Of: asking(r), Words: func() []uint64 { return wordsOf(r) }, Same: func(a, b answer) bool { return a == b }}
+}
+
 // byAllOrders holds what threads that ask so are answered against the twin, and answers what the twin's calls met.
 func byAllOrders(t *testing.T, turns int, words []uint64, asks ...[]ask) meetings {
 	t.Helper()
-	var met meetings
-	everyPlay(t, turns, words, asks, func(p api.Played, r *Ring, calls []done) {
-		w := &twin{slices.Clone(words), met}
-		q, want, _ := plays.Asked(plays.Order(p.Trace), asks, asking(w))
-		if !slices.Equal(p.Trace, q.Trace) || !slices.Equal(calls, want) || !slices.Equal(wordsOf(r), w.words) {
-			t.Fatalf("by %v: %v, %v, %v; not %v, %v, %v", plays.Order(p.Trace), p.Trace, calls, wordsOf(r), q.Trace, want, w.words)
-		}
+	w := &twin{}
+	for p, calls := range plays.Twins(t, turns, asks, func() asked { return asIs(madeOf(t, words)) }, func() asked {
+		w.words = slices.Clone(words)
+		return asked{Of: asking(w), Words: func() []uint64 { return w.words }}
+	}) {
 		operations(t, p.Trace, calls)
-		met = w.met
-	})
-	return met
+	}
+	return w.met
 }
 
 // operations holds the calls of a play against P6.5's words: how many operations they had.
@@ -182,49 +187,49 @@ func TestP62ALenThatMeetsBothByAllOrders(t *testing.T) {
 
 func TestP62ExamplesByOrders(t *testing.T) {
 	for _, x := range []struct {
-		name    string
-		order   []int
-		words   []uint64
-		asks    [][]ask
-		want    []answer // of each thread the last one
-		threads []int
-		marks   []api.Mark
-		behind  []uint64
+		name   string
+		words  []uint64
+		play   plays.Example[ask, answer]
+		behind []uint64
 	}{
-		{"a Take that sees 0 put", []int{0, 0, 0, 1, 1, 0}, empty(1), [][]ask{puts(5), takes(1)},
-			[]answer{yes(0), no()},
-			[]int{0, 0, 0, 1, 1, 0}, []api.Mark{load(1), load(0), store(2), load(0), load(1), store(1)}, []uint64{5}},
-		{"a Take behind the count", []int{0, 0, 0, 1, 0, 1}, empty(1), [][]ask{puts(5), takes(1)},
-			[]answer{yes(0), yes(5)},
-			[]int{0, 0, 0, 1, 0, 1, 1, 1}, []api.Mark{load(1), load(0), store(2), load(0), store(1), load(1), load(2), store(0)}, nil},
-		{"a Put ahead of the taken count", []int{1, 1, 1, 0, 0, 1}, []uint64{0, 1, 5}, [][]ask{puts(6), takes(1)},
-			[]answer{no(), yes(5)},
-			[]int{1, 1, 1, 0, 0, 1}, []api.Mark{load(0), load(1), load(2), load(1), load(0), store(0)}, nil},
-		{"a Put behind the taken count", []int{1, 1, 1, 0, 1, 0}, []uint64{0, 1, 5}, [][]ask{puts(6), takes(1)},
-			[]answer{yes(0), yes(5)},
-			[]int{1, 1, 1, 0, 1, 0, 0, 0}, []api.Mark{load(0), load(1), load(2), load(1), store(0), load(0), store(2), store(1)}, []uint64{6}},
-		{"a Len of one more than there is room", []int{0, 1, 1, 1, 1, 1, 1, 1, 1}, []uint64{0, 1, 5}, [][]ask{lens(1), append(takes(1), puts(6)...)},
-			[]answer{many(1), yes(0)},
-			[]int{0, 1, 1, 1, 1, 1, 1, 1, 1, 0}, []api.Mark{load(0), load(0), load(1), load(2), store(0), load(1), load(0), store(2), store(1), load(1)}, []uint64{6}},
-		{"two that put into one slot", []int{0, 0, 1, 1}, empty(2), [][]ask{puts(5), puts(6)},
-			[]answer{yes(0), yes(0)},
-			[]int{0, 0, 1, 1, 0, 1, 0, 1}, []api.Mark{load(1), load(0), load(1), load(0), store(2), store(2), store(1), store(1)}, []uint64{6}},
-		{"two that take from one slot", []int{0, 0, 1, 1}, []uint64{0, 2, 5, 6}, [][]ask{takes(1), takes(1)},
-			[]answer{yes(5), yes(5)},
-			[]int{0, 0, 1, 1, 0, 1, 0, 1}, []api.Mark{load(0), load(1), load(0), load(1), load(2), load(2), store(0), store(0)}, []uint64{6}},
+		{"a Take that sees 0 put", empty(1), plays.Example[ask, answer]{
+			Order: []int{0, 0, 0, 1, 1, 0}, Asks: [][]ask{puts(5), takes(1)}, Want: []answer{yes(0), no()},
+			Threads: []int{0, 0, 0, 1, 1, 0},
+			Marks:   []api.Mark{load(1), load(0), store(2), load(0), load(1), store(1)},
+		}, []uint64{5}},
+		{"a Take behind the count", empty(1), plays.Example[ask, answer]{
+			Order: []int{0, 0, 0, 1, 0, 1}, Asks: [][]ask{puts(5), takes(1)}, Want: []answer{yes(0), yes(5)},
+			Threads: []int{0, 0, 0, 1, 0, 1, 1, 1},
+			Marks:   []api.Mark{load(1), load(0), store(2), load(0), store(1), load(1), load(2), store(0)},
+		}, nil},
+		{"a Put ahead of the taken count", []uint64{0, 1, 5}, plays.Example[ask, answer]{
+			Order: []int{1, 1, 1, 0, 0, 1}, Asks: [][]ask{puts(6), takes(1)}, Want: []answer{no(), yes(5)},
+			Threads: []int{1, 1, 1, 0, 0, 1},
+			Marks:   []api.Mark{load(0), load(1), load(2), load(1), load(0), store(0)},
+		}, nil},
+		{"a Put behind the taken count", []uint64{0, 1, 5}, plays.Example[ask, answer]{
+			Order: []int{1, 1, 1, 0, 1, 0}, Asks: [][]ask{puts(6), takes(1)}, Want: []answer{yes(0), yes(5)},
+			Threads: []int{1, 1, 1, 0, 1, 0, 0, 0},
+			Marks:   []api.Mark{load(0), load(1), load(2), load(1), store(0), load(0), store(2), store(1)},
+		}, []uint64{6}},
+		{"a Len of one more than there is room", []uint64{0, 1, 5}, plays.Example[ask, answer]{
+			Order: []int{0, 1, 1, 1, 1, 1, 1, 1, 1}, Asks: [][]ask{lens(1), append(takes(1), puts(6)...)}, Want: []answer{many(1), yes(0)},
+			Threads: []int{0, 1, 1, 1, 1, 1, 1, 1, 1, 0},
+			Marks:   []api.Mark{load(0), load(0), load(1), load(2), store(0), load(1), load(0), store(2), store(1), load(1)},
+		}, []uint64{6}},
+		{"two that put into one slot", empty(2), plays.Example[ask, answer]{
+			Order: []int{0, 0, 1, 1}, Asks: [][]ask{puts(5), puts(6)}, Want: []answer{yes(0), yes(0)},
+			Threads: []int{0, 0, 1, 1, 0, 1, 0, 1},
+			Marks:   []api.Mark{load(1), load(0), load(1), load(0), store(2), store(2), store(1), store(1)},
+		}, []uint64{6}},
+		{"two that take from one slot", []uint64{0, 2, 5, 6}, plays.Example[ask, answer]{
+			Order: []int{0, 0, 1, 1}, Asks: [][]ask{takes(1), takes(1)}, Want: []answer{yes(5), yes(5)},
+			Threads: []int{0, 0, 1, 1, 0, 1, 0, 1},
+			Marks:   []api.Mark{load(0), load(1), load(0), load(1), load(2), load(2), store(0), store(0)},
+		}, []uint64{6}},
 	} {
 		r := madeOf(t, x.words)
-		p, calls, e := plays.Asked(x.order, x.asks, asking(r))
-		if want := plays.Trace(x.threads, x.marks...); e != api.OK || !slices.Equal(p.Trace, want) {
-			t.Errorf("%s: %v, %v, not %v", x.name, e, p.Trace, want)
-		}
-		got := make([]answer, len(x.want))
-		for _, d := range calls {
-			got[d.Thread] = d.Answer
-		}
-		if !slices.Equal(got, x.want) {
-			t.Errorf("%s: %v, not %v", x.name, got, x.want)
-		}
+		plays.AsTold(t, x.name, asIs(r), x.play)
 		holds(t, x.name, r, x.behind...)
 	}
 }
