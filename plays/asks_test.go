@@ -15,7 +15,7 @@ func loading() func(words int, g api.Gate) int {
 	ended := 0
 	return func(words int, g api.Gate) int {
 		for i := range words {
-			g.Step(load(i))
+			g.Step(Load(i))
 		}
 		ended++
 		return ended - 1

@@ -139,3 +139,8 @@ func CutOff(ops int, call func(g api.Gate)) bool {
 	})
 	return e == api.OK && len(p.Trace) == api.MaxTurns && len(p.Cut) == 1 && !ended
 }
+
+// Load, Store and CAS answer the marks of operations done to that word.
+func Load(word int) api.Mark  { return api.Mark{Op: api.OpLoad, Word: word} }
+func Store(word int) api.Mark { return api.Mark{Op: api.OpStore, Word: word} }
+func CAS(word int) api.Mark   { return api.Mark{Op: api.OpCAS, Word: word} }

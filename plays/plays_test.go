@@ -10,11 +10,6 @@ import (
 	"patchbay/turn"
 )
 
-// load is the mark of a load of that word.
-func load(word int) api.Mark {
-	return api.Mark{Op: api.OpLoad, Word: word}
-}
-
 // stepping answers threads with so many steps each.
 func stepping(steps ...int) func() []func(g api.Gate) {
 	return func() []func(g api.Gate) {
@@ -22,7 +17,7 @@ func stepping(steps ...int) func() []func(g api.Gate) {
 		for _, n := range steps {
 			threads = append(threads, func(g api.Gate) {
 				for i := range n {
-					g.Step(load(i))
+					g.Step(Load(i))
 				}
 			})
 		}
@@ -76,10 +71,10 @@ func TestEveryOfThreadsThatHangOnEachOther(t *testing.T) {
 	begin := func() []func(g api.Gate) {
 		ended = false
 		return []func(g api.Gate){
-			func(g api.Gate) { g.Step(load(0)); g.Step(load(0)); ended = true },
+			func(g api.Gate) { g.Step(Load(0)); g.Step(Load(0)); ended = true },
 			func(g api.Gate) {
 				for !ended {
-					g.Step(load(1))
+					g.Step(Load(1))
 				}
 			},
 		}
@@ -153,7 +148,7 @@ func TestWhole(t *testing.T) {
 	long := func() []func(g api.Gate) {
 		return append(stepping(1)(), func(g api.Gate) {
 			for range api.MaxTurns {
-				g.Step(load(0))
+				g.Step(Load(0))
 			}
 		})
 	}
@@ -181,7 +176,7 @@ func TestWhole(t *testing.T) {
 
 func TestTrace(t *testing.T) {
 	want, _ := turn.Play([]int{1, 0, 1, 0}, stepping(2, 2)()...)
-	if got := Trace([]int{1, 0, 1, 0}, load(0), load(0), load(1), load(1)); !slices.Equal(got, want.Trace) || len(Trace(nil)) != 0 {
+	if got := Trace([]int{1, 0, 1, 0}, Load(0), Load(0), Load(1), Load(1)); !slices.Equal(got, want.Trace) || len(Trace(nil)) != 0 {
 		t.Errorf("%v, not %v", got, want.Trace)
 	}
 }
@@ -210,7 +205,7 @@ func TestFree(t *testing.T) {
 
 func TestTold(t *testing.T) {
 	marks := Told(func(g api.Gate) { stepping(3)()[0](g) })
-	if !slices.Equal(marks, []api.Mark{load(0), load(1), load(2)}) {
+	if !slices.Equal(marks, []api.Mark{Load(0), Load(1), Load(2)}) {
 		t.Errorf("%v", marks)
 	}
 }
@@ -219,7 +214,7 @@ func TestWatched(t *testing.T) {
 	begun, looks := 0, []int(nil)
 	thread := func(g api.Gate) {
 		for range 2 {
-			g.Step(load(0))
+			g.Step(Load(0))
 			begun++
 		}
 	}
@@ -234,12 +229,21 @@ func TestCutOff(t *testing.T) {
 		begun := 0
 		cut := CutOff(ops, func(g api.Gate) {
 			for i := range 4 {
-				g.Step(load(i))
+				g.Step(Load(i))
 				begun++
 			}
 		})
 		if cut != (ops < 4) || begun != min(ops, 4) {
 			t.Errorf("behind %d: %v, %d operations", ops, cut, begun)
+		}
+	}
+}
+
+func TestMarks(t *testing.T) {
+	for _, word := range []int{0, 1, 7, -1, 1 << 40} {
+		got := []api.Mark{Load(word), Store(word), CAS(word)}
+		if want := []api.Mark{{Op: api.OpLoad, Word: word}, {Op: api.OpStore, Word: word}, {Op: api.OpCAS, Word: word}}; !slices.Equal(got, want) {
+			t.Errorf("%v, not %v", got, want)
 		}
 	}
 }

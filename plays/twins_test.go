@@ -39,7 +39,7 @@ func tell(g api.Gate, word int) {
 		runtime.Gosched()
 		return
 	}
-	g.Step(load(word))
+	g.Step(Load(word))
 }
 
 // of answers what makes adding ones.
@@ -112,7 +112,7 @@ func TestAsTold(t *testing.T) {
 		Asks:    [][]uint64{{1}, {2, 4}},
 		Want:    []uint64{1, 5},
 		Threads: []int{0, 1, 1, 0, 1, 1},
-		Marks:   slices.Repeat([]api.Mark{load(0)}, 6),
+		Marks:   slices.Repeat([]api.Mark{Load(0)}, 6),
 	}
 	AsTold(t, "as told", adding(faults{}), x)
 	for name, change := range map[string]func(x *Example[uint64, uint64]){
@@ -120,7 +120,7 @@ func TestAsTold(t *testing.T) {
 		"another first one":   func(x *Example[uint64, uint64]) { x.Want = []uint64{2, 5} },
 		"no answer":           func(x *Example[uint64, uint64]) { x.Want = x.Want[:1] },
 		"another trace":       func(x *Example[uint64, uint64]) { x.Threads = []int{0, 1, 0, 1, 1, 1} },
-		"another mark":        func(x *Example[uint64, uint64]) { x.Marks = append(x.Marks[:5:5], load(1)) },
+		"another mark":        func(x *Example[uint64, uint64]) { x.Marks = append(x.Marks[:5:5], Load(1)) },
 		"one that is too few": func(x *Example[uint64, uint64]) { x.Marks = x.Marks[:5] },
 	} {
 		y := x

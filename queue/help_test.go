@@ -113,9 +113,7 @@ func tells(t *testing.T, name string, q *Queue, a ask, want answer, marks ...api
 }
 
 // load, store and cas are the marks of operations of that word.
-func load(word int) api.Mark  { return api.Mark{Op: api.OpLoad, Word: word} }
-func store(word int) api.Mark { return api.Mark{Op: api.OpStore, Word: word} }
-func cas(word int) api.Mark   { return api.Mark{Op: api.OpCAS, Word: word} }
+var load, store, cas = plays.Load, plays.Store, plays.CAS
 
 // meanwhile is a gate that does something ahead of each step.
 type meanwhile func(m api.Mark)
@@ -168,20 +166,12 @@ func standing(n int, before uint64, values ...uint64) []uint64 {
 func madeOf(t *testing.T, words []uint64) *Queue {
 	t.Helper()
 	q := made(t, len(words)/2-1)
-	for i, v := range words {
-		q.words[i].Store(v)
-	}
+	plays.SetWords(q.words, words)
 	return q
 }
 
 // wordsOf answers the words of a queue.
-func wordsOf(q *Queue) []uint64 {
-	var words []uint64
-	for i := range q.words {
-		words = append(words, q.words[i].Load())
-	}
-	return words
-}
+func wordsOf(q *Queue) []uint64 { return plays.WordsOf(q.words) }
 
 // holds ends in an error, unless just these values are in a queue that nobody else uses, and there is room for as many others as are left. Behind it there are none.
 func holds(t *testing.T, name string, q *Queue, want ...uint64) {

@@ -116,8 +116,7 @@ func tells(t *testing.T, name string, o object, a ask, want answer, marks ...api
 }
 
 // load and store are the marks of operations of that word.
-func load(word int) api.Mark  { return api.Mark{Op: api.OpLoad, Word: word} }
-func store(word int) api.Mark { return api.Mark{Op: api.OpStore, Word: word} }
+var load, store = plays.Load, plays.Store
 
 // putSteps and takeSteps are the operations of a Put and a Take that say true, lookSteps those of the ones that say false, of that slot.
 func putSteps(slot int) []api.Mark {
@@ -154,20 +153,12 @@ func made(t *testing.T, slots int) *Ring {
 func madeOf(t *testing.T, words []uint64) *Ring {
 	t.Helper()
 	r := made(t, len(words)-2)
-	for i, v := range words {
-		r.words[i].Store(v)
-	}
+	plays.SetWords(r.words, words)
 	return r
 }
 
 // wordsOf answers the words of a ring.
-func wordsOf(r *Ring) []uint64 {
-	var words []uint64
-	for i := range r.words {
-		words = append(words, r.words[i].Load())
-	}
-	return words
-}
+func wordsOf(r *Ring) []uint64 { return plays.WordsOf(r.words) }
 
 // holds ends in an error, unless just these numbers are in a ring that nobody else uses. Behind it there are none.
 func holds(t *testing.T, name string, r *Ring, want ...uint64) {

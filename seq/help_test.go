@@ -76,9 +76,7 @@ func copied[T any](p *T) *T {
 }
 
 // load, cas, store are the marks of operations of that word.
-func load(word int) api.Mark  { return api.Mark{Op: api.OpLoad, Word: word} }
-func cas(word int) api.Mark   { return api.Mark{Op: api.OpCAS, Word: word} }
-func store(word int) api.Mark { return api.Mark{Op: api.OpStore, Word: word} }
+var load, cas, store = plays.Load, plays.CAS, plays.Store
 
 // writeSteps and readSteps are the operations of calls of a record of n words that nobody meets.
 func writeSteps(n int) []api.Mark {
