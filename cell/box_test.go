@@ -5,6 +5,7 @@ import (
 	"testing"
 
 	"patchbay/api"
+	"patchbay/plays"
 )
 
 // put puts, and ends in an error, if the answer is another one.
@@ -68,7 +69,7 @@ func TestP31OperationsOfABox(t *testing.T) {
 func TestP31BoxesThatAreNone(t *testing.T) {
 	whole := NewBox("a")
 	whole.Put(nil, "b")
-	for name, b := range map[string]*Box[string]{"nil": nil, "a zero value": {}, "new": new(Box[string]), "a copy": copied(whole)} {
+	for name, b := range map[string]*Box[string]{"nil": nil, "a zero value": {}, "new": new(Box[string]), "a copy": plays.Copied(whole)} {
 		tells(t, name, func(g api.Gate) {
 			if v, n, e := b.Get(g); v != "" || n != 0 || e != api.ErrNil {
 				t.Errorf("%s: Get: %q, %d, %v", name, v, n, e)

@@ -15,12 +15,6 @@ func edges() []uint64 {
 	return []uint64{0, 1, 2, 5, 1<<32 - 1, 1 << 32, 1<<63 - 1, 1 << 63, 1<<63 + 1, top - 1, top}
 }
 
-// copied answers an object with the same fields that no call of the package made.
-func copied[T any](p *T) *T {
-	q := *p
-	return &q
-}
-
 // tells ends in an error, if a call tells its gate of other operations than these, in this order, all of the word 0.
 func tells(t *testing.T, name string, call func(g api.Gate), want ...api.OpKind) {
 	t.Helper()

@@ -5,6 +5,7 @@ import (
 	"testing"
 
 	"patchbay/api"
+	"patchbay/plays"
 )
 
 // number answers a number of 64 bits as one of arithmetic, which does not go round.
@@ -145,7 +146,7 @@ func TestP31OperationsOfACounter(t *testing.T) {
 
 func TestP31CountersThatAreNone(t *testing.T) {
 	whole := NewCounter(7)
-	for name, c := range map[string]*Counter{"nil": nil, "a zero value": {}, "new": new(Counter), "a copy": copied(whole)} {
+	for name, c := range map[string]*Counter{"nil": nil, "a zero value": {}, "new": new(Counter), "a copy": plays.Copied(whole)} {
 		tells(t, name, func(g api.Gate) {
 			if v, e := c.Get(g); v != 0 || e != api.ErrNil {
 				t.Errorf("%s: Get: %d, %v", name, v, e)

@@ -4,6 +4,7 @@ import (
 	"testing"
 
 	"patchbay/api"
+	"patchbay/plays"
 )
 
 func TestP31FlagExamples(t *testing.T) {
@@ -53,7 +54,7 @@ func TestP31OperationsOfAFlag(t *testing.T) {
 func TestP31FlagsThatAreNone(t *testing.T) {
 	whole := NewFlag()
 	whole.Set(nil)
-	for name, f := range map[string]*Flag{"nil": nil, "a zero value": {}, "new": new(Flag), "a copy": copied(whole)} {
+	for name, f := range map[string]*Flag{"nil": nil, "a zero value": {}, "new": new(Flag), "a copy": plays.Copied(whole)} {
 		tells(t, name, func(g api.Gate) {
 			for i, call := range []func(g api.Gate) (bool, api.Errno){f.Get, f.Set, f.Get, f.Clear, f.Set} {
 				if got, e := call(g); got || e != api.ErrNil {

@@ -149,15 +149,9 @@ func TestP92RefusalsChangeNothing(t *testing.T) {
 	stands(t, "behind them", d, x)
 }
 
-// copied answers a domain with the same fields that no call of the package made.
-func copied[T any](p *T) *T {
-	q := *p
-	return &q
-}
-
 func TestP92DomainsThatAreNone(t *testing.T) {
 	whole := at(2, 2, 1).domain(t)
-	for name, d := range map[string]*epoch.Domain{"nil": nil, "a zero value": {}, "new": new(epoch.Domain), "a copy": copied(whole)} {
+	for name, d := range map[string]*epoch.Domain{"nil": nil, "a zero value": {}, "new": new(epoch.Domain), "a copy": plays.Copied(whole)} {
 		// ErrNil comes ahead of all else: there is no such slot, either.
 		for _, a := range []ask{now(), pin(0), pin(1), pin(-1), pin(2), pin(99), unpin(0), unpin(1), unpin(-1), unpin(99), move(), safe(0), safe(1), safe(most)} {
 			tells(t, name, d, a, refused(api.ErrNil))

@@ -240,15 +240,6 @@ func (l lister) asks(calls int, slots ...int) []ask {
 	return list
 }
 
-// order answers an order of so many turns in which threads have up to that many turns, one behind the other.
-func (l lister) order(turns, threads, atOnce int) []int {
-	var order []int
-	for len(order) < turns {
-		order = append(order, slices.Repeat([]int{l.from.IntN(threads)}, 1+l.from.IntN(atOnce))...)
-	}
-	return order
-}
-
 func TestP93LongPlays(t *testing.T) {
 	l := lister{rand.New(rand.NewPCG(9, 3))}
 	met, kept := meetings{}, 0
@@ -267,7 +258,7 @@ func TestP93LongPlays(t *testing.T) {
 		x, w := at(n, 1), &twin{met: met}
 		w.become(x)
 		d := watch(t, x.domain(t))
-		p, calls, e := plays.Asked(l.order(1200, threads, 1+i%24), asks, d.of)
+		p, calls, e := plays.Asked(plays.Drawn(l.from.IntN, 1200, threads, 1+i%24), asks, d.of)
 		want, wanted, _ := plays.Asked(plays.Order(p.Trace), asks, asking(w))
 		if e != api.OK || len(p.Cut) != 0 || !slices.Equal(p.Trace, want.Trace) || !slices.Equal(calls, wanted) {
 			t.Fatalf("by %v: %v, cut %v: not as the steps say", plays.Order(p.Trace), e, p.Cut)
@@ -292,7 +283,7 @@ func TestP92LongPlaysOfOneSlot(t *testing.T) {
 		}
 		d, w := x.domain(t), &twin{met: met}
 		w.become(x)
-		p, calls, e := plays.Asked(l.order(1000, threads, 1+i%12), asks, asking(d))
+		p, calls, e := plays.Asked(plays.Drawn(l.from.IntN, 1000, threads, 1+i%12), asks, asking(d))
 		want, wanted, _ := plays.Asked(plays.Order(p.Trace), asks, asking(w))
 		if e != api.OK || len(p.Cut) != 0 || !slices.Equal(p.Trace, want.Trace) || !slices.Equal(calls, wanted) || !slices.Equal(look(d), w.words()) {
 			t.Fatalf("by %v: %v, cut %v: not as the steps say", plays.Order(p.Trace), e, p.Cut)

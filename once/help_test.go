@@ -92,12 +92,6 @@ func (w way) counted(calls *int) func() (int, api.Errno) {
 	}
 }
 
-// copied answers an object with the same fields that no call of the package made.
-func copied[T any](p *T) *T {
-	q := *p
-	return &q
-}
-
 // gate is a gate that does what it is.
 type gate func(m api.Mark)
 

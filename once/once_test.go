@@ -5,6 +5,7 @@ import (
 	"testing"
 
 	"patchbay/api"
+	"patchbay/plays"
 )
 
 func TestP41NewOfNil(t *testing.T) {
@@ -109,7 +110,7 @@ func TestP42OncesOfOneMakeAreTheirOwn(t *testing.T) {
 func TestP42OncesThatAreNone(t *testing.T) {
 	whole := New(giving(7, api.OK))
 	whole.Get(nil)
-	for name, o := range map[string]*Once[int]{"nil": nil, "a zero value": {}, "new": new(Once[int]), "a copy": copied(whole)} {
+	for name, o := range map[string]*Once[int]{"nil": nil, "a zero value": {}, "new": new(Once[int]), "a copy": plays.Copied(whole)} {
 		tells(t, name, func(g api.Gate) {
 			gets(t, name, answers(o.Get(g)), answer{0, api.ErrNil})
 			gets(t, name+", free", answers(o.Get(nil)), answer{0, api.ErrNil})
@@ -128,7 +129,7 @@ func TestP42OncesThatAreNone(t *testing.T) {
 func TestP42ACopyOfWhatIsNotMadeYet(t *testing.T) {
 	calls := 0
 	whole := New(valued().counted(&calls))
-	gets(t, "a copy", answers(copied(whole).Get(nil)), answer{0, api.ErrNil})
+	gets(t, "a copy", answers(plays.Copied(whole).Get(nil)), answer{0, api.ErrNil})
 	if calls != 0 || whole.Made() != 0 {
 		t.Errorf("%d calls, made %d", calls, whole.Made())
 	}

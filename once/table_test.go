@@ -6,6 +6,7 @@ import (
 	"testing"
 
 	"patchbay/api"
+	"patchbay/plays"
 )
 
 // table answers a table, and ends the test where there is none.
@@ -119,7 +120,7 @@ func TestP42AllWaysOfATable(t *testing.T) {
 func TestP42TablesThatAreNone(t *testing.T) {
 	whole := table(t, 3, tens)
 	whole.Get(nil, 1)
-	for name, x := range map[string]*Table[int]{"nil": nil, "a zero value": {}, "new": new(Table[int]), "a copy": copied(whole)} {
+	for name, x := range map[string]*Table[int]{"nil": nil, "a zero value": {}, "new": new(Table[int]), "a copy": plays.Copied(whole)} {
 		tells(t, name, func(g api.Gate) {
 			for _, i := range []int{0, 1, 2, -1, 3, math.MaxInt} {
 				gets(t, name, answers(x.Get(g, i)), answer{0, api.ErrNil})

@@ -3,6 +3,7 @@ package plays
 
 import (
 	"iter"
+	"slices"
 
 	"patchbay/api"
 	"patchbay/turn"
@@ -138,6 +139,21 @@ func CutOff(ops int, call func(g api.Gate)) bool {
 		ended = true
 	})
 	return e == api.OK && len(p.Trace) == api.MaxTurns && len(p.Cut) == 1 && !ended
+}
+
+// Drawn answers an order of that many turns or a few more, in which a thread has up to so many turns at once; draw draws numbers from 0 on, below the one that it is handed.
+func Drawn(draw func(below int) int, turns, threads, atOnce int) []int {
+	var order []int
+	for len(order) < turns {
+		order = append(order, slices.Repeat([]int{draw(threads)}, 1+draw(atOnce))...)
+	}
+	return order
+}
+
+// Copied answers an object with the same fields, which no call of its package made.
+func Copied[T any](p *T) *T {
+	q := *p
+	return &q
 }
 
 // Load, Store and CAS answer the marks of operations done to that word.

@@ -247,3 +247,38 @@ func TestMarks(t *testing.T) {
 		}
 	}
 }
+
+func TestDrawn(t *testing.T) {
+	var asked []int
+	draw := func(below int) int {
+		asked = append(asked, below)
+		return len(asked) % below
+	}
+	// Thread 1, and two more turns of it; thread 0, and none.
+	if got := Drawn(draw, 4, 3, 4); !slices.Equal(got, []int{1, 1, 1, 0}) || !slices.Equal(asked, []int{3, 4, 3, 4}) {
+		t.Errorf("%v; drawn below %v", got, asked)
+	}
+	asked = nil
+	if got := Drawn(draw, 2, 2, 2); !slices.Equal(got, []int{1, 1}) {
+		t.Errorf("%v; drawn below %v", got, asked)
+	}
+	if got := Drawn(draw, 0, 2, 2); len(got) != 0 {
+		t.Errorf("no turns: %v", got)
+	}
+}
+
+func TestCopied(t *testing.T) {
+	type pair struct {
+		n    int
+		list []int
+	}
+	a := &pair{7, []int{8}}
+	b := Copied(a)
+	if b == a || b.n != 7 || &b.list[0] != &a.list[0] {
+		t.Errorf("%v, %v", a, b)
+	}
+	b.n = 9
+	if a.n != 7 {
+		t.Errorf("it is no copy: %v", a)
+	}
+}

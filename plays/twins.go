@@ -25,7 +25,7 @@ func Twins[Q comparable, A any](t Test, turns int, asks [][]Q, object, twin func
 		}) {
 			w := twin()
 			want, wanted, _ := Asked(Order(p.Trace), asks, w.Of)
-			if !slices.Equal(p.Trace, want.Trace) || !sameCalls(calls, wanted, o.Same) || !slices.Equal(o.Words(), w.Words()) {
+			if !slices.Equal(p.Trace, want.Trace) || !SameCalls(calls, wanted, o.Same) || !slices.Equal(o.Words(), w.Words()) {
 				t.Fatalf("by %v: %v, %v, %v; not %v, %v, %v", Order(p.Trace), p.Trace, calls, o.Words(), want.Trace, wanted, w.Words())
 			}
 			if !yield(p, calls) {
@@ -35,8 +35,8 @@ func Twins[Q comparable, A any](t Test, turns int, asks [][]Q, object, twin func
 	}
 }
 
-// sameCalls tells whether the calls of two plays are alike.
-func sameCalls[Q comparable, A any](a, b []Done[Q, A], same func(a, b A) bool) bool {
+// SameCalls tells whether the calls of two plays are alike, answers and all.
+func SameCalls[Q comparable, A any](a, b []Done[Q, A], same func(a, b A) bool) bool {
 	return slices.EqualFunc(a, b, func(a, b Done[Q, A]) bool {
 		return a.Thread == b.Thread && a.Ask == b.Ask && same(a.Answer, b.Answer) && a.From == b.From && a.To == b.To
 	})

@@ -97,11 +97,11 @@ func TestTwinsThatAreNotAlike(t *testing.T) {
 func TestSameCalls(t *testing.T) {
 	d := Done[int, int]{1, 2, 3, 4, 5}
 	for i, x := range []Done[int, int]{{1, 2, 3, 4, 5}, {0, 2, 3, 4, 5}, {1, 0, 3, 4, 5}, {1, 2, 0, 4, 5}, {1, 2, 3, 0, 5}, {1, 2, 3, 4, 0}} {
-		if got := sameCalls([]called{d}, []called{x}, func(a, b int) bool { return a == b }); got != (i == 0) {
+		if got := SameCalls([]called{d}, []called{x}, func(a, b int) bool { return a == b }); got != (i == 0) {
 			t.Errorf("%v, %v: %v", d, x, got)
 		}
 	}
-	if sameCalls([]called{d}, nil, nil) {
+	if SameCalls([]called{d}, nil, nil) {
 		t.Error("one call, and none")
 	}
 }

@@ -164,8 +164,7 @@ func TestP72BehindAndAhead(t *testing.T) {
 func TestP72QueuesThatAreNone(t *testing.T) {
 	whole := made(t, 2)
 	whole.Put(nil, 5)
-	copied := *whole
-	for name, q := range map[string]*Queue{"nil": nil, "a zero value": {}, "new": new(Queue), "a copy": &copied} {
+	for name, q := range map[string]*Queue{"nil": nil, "a zero value": {}, "new": new(Queue), "a copy": plays.Copied(whole)} {
 		for _, a := range []ask{{doPut, 0}, {doPut, 7}, {doTake, 0}, {doDrain, 0}} {
 			tells(t, name, q, a, none())
 			is(t, name, q, nil, a, none())

@@ -6,6 +6,7 @@ import (
 	"testing"
 
 	"patchbay/api"
+	"patchbay/plays"
 	"patchbay/turn"
 )
 
@@ -161,8 +162,7 @@ func TestP62OtherCounts(t *testing.T) {
 func TestP62RingsThatAreNone(t *testing.T) {
 	whole := made(t, 2)
 	whole.Put(nil, 5)
-	copied := *whole
-	for name, r := range map[string]*Ring{"nil": nil, "a zero value": {}, "new": new(Ring), "a copy": &copied} {
+	for name, r := range map[string]*Ring{"nil": nil, "a zero value": {}, "new": new(Ring), "a copy": plays.Copied(whole)} {
 		for _, a := range []ask{{doPut, 0}, {doPut, 7}, {doTake, 0}, {doLen, 0}} {
 			tells(t, name, r, a, none())
 			is(t, name, r, nil, a, none())

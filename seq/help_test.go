@@ -69,12 +69,6 @@ func several(n int, from uint64) []uint64 {
 	return words
 }
 
-// copied answers a record with the same fields that no call of the package made.
-func copied[T any](p *T) *T {
-	q := *p
-	return &q
-}
-
 // load, cas, store are the marks of operations of that word.
 var load, cas, store = plays.Load, plays.CAS, plays.Store
 

@@ -6,6 +6,7 @@ import (
 	"testing"
 
 	"patchbay/api"
+	"patchbay/plays"
 	"patchbay/seq"
 )
 
@@ -216,7 +217,7 @@ func TestP54SoManyTriesAndNoMore(t *testing.T) {
 
 func TestP51RecordsThatAreNone(t *testing.T) {
 	whole := made(t, 5, 6)
-	for name, r := range map[string]*seq.Record{"nil": nil, "a zero value": {}, "new": new(seq.Record), "a copy": copied(whole)} {
+	for name, r := range map[string]*seq.Record{"nil": nil, "a zero value": {}, "new": new(seq.Record), "a copy": plays.Copied(whole)} {
 		tells(t, name, func(g api.Gate) {
 			for _, g := range []api.Gate{g, nil} {
 				if n := r.Len(); n != 0 {

@@ -6,6 +6,7 @@ import (
 	"testing"
 
 	"patchbay/api"
+	"patchbay/plays"
 	"patchbay/turn"
 )
 
@@ -166,8 +167,7 @@ func TestP82TagsThatGoRound(t *testing.T) {
 func TestP82StacksThatAreNone(t *testing.T) {
 	whole := made(t, 2)
 	whole.Push(nil, 5)
-	copied := *whole
-	for name, s := range map[string]*Stack{"nil": nil, "a zero value": {}, "new": new(Stack), "a copy": &copied} {
+	for name, s := range map[string]*Stack{"nil": nil, "a zero value": {}, "new": new(Stack), "a copy": plays.Copied(whole)} {
 		for _, a := range []ask{{false, 0}, {false, 7}, {true, 0}} {
 			tells(t, name, s, a, none())
 			is(t, name, s, nil, a, none())
