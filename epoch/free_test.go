@@ -24,14 +24,6 @@ func gateOf(run, k int) api.Gate {
 	return nil
 }
 
-// free runs so many threads at a time, each with its number.
-func free(t *testing.T, threads int, body func(k int)) {
-	t.Helper()
-	if e := plays.Free(threads, body); e != api.OK {
-		t.Fatalf("Free: %v", e)
-	}
-}
-
 // run is a domain that is used freely.
 type run struct {
 	domain *epoch.Domain
@@ -92,7 +84,7 @@ func TestP93FreeHeld(t *testing.T) {
 		for round := range 4 {
 			x := &run{domain: made(t, y.slots)}
 			var ended atomic.Int64
-			free(t, y.slots+y.movers, func(k int) {
+			plays.Freely(t, y.slots+y.movers, func(k int) {
 				g := gateOf(i+round, k)
 				if k >= y.slots {
 					for ended.Load() < int64(y.slots) && !x.wrong.Load() {
@@ -130,7 +122,7 @@ func TestP93FreeSlotsThatAreHandedOn(t *testing.T) {
 			for slot := range slots {
 				idle <- slot
 			}
-			free(t, 8, func(k int) {
+			plays.Freely(t, 8, func(k int) {
 				g := gateOf(i+round, k)
 				for j := 0; j < 1500 && !x.wrong.Load(); j++ {
 					select {
@@ -158,7 +150,7 @@ func TestP93FreeSlotsThatAreHandedOn(t *testing.T) {
 func TestP93FreeMovesAlone(t *testing.T) {
 	for i := range 40 {
 		x := &run{domain: made(t, 1+i%api.MaxPins)}
-		free(t, 8, func(k int) {
+		plays.Freely(t, 8, func(k int) {
 			for range 1000 {
 				x.ask(t, gateOf(i, k), k, move())
 			}
@@ -218,7 +210,7 @@ func TestP94FreeTakenAway(t *testing.T) {
 			x := &things{run: run{domain: made(t, y.users)}, freed: make([]atomic.Bool, 1+swaps*y.swappers)}
 			var kept [api.MaxThreads][]away
 			var ended atomic.Int64
-			free(t, y.users+y.swappers, func(k int) {
+			plays.Freely(t, y.users+y.swappers, func(k int) {
 				g := gateOf(i+round, k)
 				if k < y.users {
 					for ended.Load() < int64(y.swappers) && !x.wrong.Load() {
@@ -256,7 +248,7 @@ func (c *counting) Step(api.Mark) {
 func TestP96FreeOperations(t *testing.T) {
 	for _, y := range []struct{ slots, movers int }{{1, 1}, {3, 3}, {8, 8}, {15, 1}, {1, 7}} {
 		x := &run{domain: made(t, y.slots)}
-		free(t, y.slots+y.movers, func(k int) {
+		plays.Freely(t, y.slots+y.movers, func(k int) {
 			for j := 0; j < 1000 && !x.wrong.Load(); j++ {
 				a, bound := move(), uint64(y.slots)+2
 				if k < y.slots {

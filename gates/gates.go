@@ -14,6 +14,25 @@ func Tell(g api.Gate, op api.OpKind, word int) {
 	}
 }
 
+// As answers a gate that tells g of each operation as one of that word: for an object that is one word of another one.
+func As(g api.Gate, word int) api.Gate {
+	// A free call is to stay free.
+	if g == nil {
+		return nil
+	}
+	return renamed{g, word}
+}
+
+// renamed is a gate that tells another one of all operations as of those of one word.
+type renamed struct {
+	gate api.Gate
+	word int
+}
+
+func (r renamed) Step(m api.Mark) {
+	Tell(r.gate, m.Op, r.word)
+}
+
 // Words are all words of an object, by their numbers. Each operation tells the gate ahead of being done.
 type Words []atomic.Uint64
 
@@ -27,6 +46,12 @@ func (w Words) Load(g api.Gate, word int) uint64 {
 func (w Words) Store(g api.Gate, word int, v uint64) {
 	Tell(g, api.OpStore, word)
 	w[word].Store(v)
+}
+
+// Add adds n to the word, and answers the sum.
+func (w Words) Add(g api.Gate, word int, n uint64) uint64 {
+	Tell(g, api.OpAdd, word)
+	return w[word].Add(n)
 }
 
 // CAS puts to in the word's place, if it is from, and answers whether it did.

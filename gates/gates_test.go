@@ -24,6 +24,31 @@ func TestTellNobody(t *testing.T) {
 	Tell((*turn.Notes)(nil), api.OpLoad, 0)
 }
 
+func TestAs(t *testing.T) {
+	n := turn.NewNotes()
+	var want []api.Mark
+	for _, word := range []int{0, 1, 66, -1, 1 << 40} {
+		g := As(n, word)
+		for _, m := range []api.Mark{{Op: api.OpLoad, Word: 0}, {Op: api.OpCAS, Word: 7}, {Op: api.OpSwap, Word: -3}} {
+			g.Step(m)
+			want = append(want, api.Mark{Op: m.Op, Word: word})
+		}
+	}
+	// As one word of an object that is itself one word of another one.
+	As(As(n, 5), 9).Step(api.Mark{Op: api.OpAdd, Word: 1})
+	want = append(want, api.Mark{Op: api.OpAdd, Word: 5})
+	if got := n.Marks(); !slices.Equal(got, want) {
+		t.Errorf("%v, not %v", got, want)
+	}
+}
+
+func TestAsOfNobody(t *testing.T) {
+	if g := As(nil, 7); g != nil {
+		t.Errorf("%v: a free call is not free any more", g)
+	}
+	As((*turn.Notes)(nil), 7).Step(api.Mark{Op: api.OpLoad, Word: 0})
+}
+
 func TestWords(t *testing.T) {
 	w := make(Words, 3)
 	n := turn.NewNotes()
@@ -43,10 +68,16 @@ func TestWords(t *testing.T) {
 				t.Errorf("CAS: %v of %v, %d stands there", ok, x, w[x.word].Load())
 			}
 		}
+		if v := w.Add(g, 1, 3); v != 8 {
+			t.Errorf("Add: %d", v)
+		}
+		if v := w.Add(g, 1, 1<<64-1); v != 7 || w[1].Load() != 7 || w[0].Load() != 0 || w[2].Load() != 9 {
+			t.Errorf("Add of a number that goes round: %d, %v", v, w)
+		}
 		w.Store(g, 1, 0)
 	}
 	want := []api.Mark{{Op: api.OpStore, Word: 2}, {Op: api.OpStore, Word: 0}, {Op: api.OpLoad, Word: 2}, {Op: api.OpCAS, Word: 2}, {Op: api.OpCAS, Word: 2},
-		{Op: api.OpCAS, Word: 2}, {Op: api.OpCAS, Word: 0}, {Op: api.OpCAS, Word: 1}, {Op: api.OpStore, Word: 1}}
+		{Op: api.OpCAS, Word: 2}, {Op: api.OpCAS, Word: 0}, {Op: api.OpCAS, Word: 1}, {Op: api.OpAdd, Word: 1}, {Op: api.OpAdd, Word: 1}, {Op: api.OpStore, Word: 1}}
 	if got := n.Marks(); !slices.Equal(got, want) {
 		t.Errorf("%v, not %v", got, want)
 	}
@@ -60,16 +91,17 @@ func TestWordsTellAheadOfTheOperation(t *testing.T) {
 	first := func(g api.Gate) {
 		w.Store(g, 0, 5)
 		swapped = w.CAS(g, 0, 5, 6)
-		seen = append(seen, w.Load(g, 0))
+		seen = append(seen, w.Load(g, 0), w.Add(g, 0, 1))
 	}
 	second := func(g api.Gate) {
 		for range 2 {
 			seen = append(seen, w.Load(g, 0))
 		}
 		w.Store(g, 0, 9)
+		w.Store(g, 0, 20)
 	}
-	p, e := turn.Play([]int{1, 0, 1, 0, 1, 0}, first, second)
-	if want := []uint64{0, 5, 9}; e != api.OK || len(p.Trace) != 6 || !slices.Equal(seen, want) || !swapped {
+	p, e := turn.Play([]int{1, 0, 1, 0, 1, 0, 1, 0}, first, second)
+	if want := []uint64{0, 5, 9, 21}; e != api.OK || len(p.Trace) != 8 || !slices.Equal(seen, want) || !swapped {
 		t.Errorf("%v, %v: saw %v, not %v", e, p, seen, want)
 	}
 }

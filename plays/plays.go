@@ -98,6 +98,14 @@ func Free(threads int, body func(k int)) api.Errno {
 	return turn.Free(all...)
 }
 
+// Freely is Free, and the test's end where it can't be run.
+func Freely(t Test, threads int, body func(k int)) {
+	t.Helper()
+	if e := Free(threads, body); e != api.OK {
+		t.Fatalf("Free: %v", e)
+	}
+}
+
 // Told answers the marks of which a call tells its gate.
 func Told(call func(g api.Gate)) []api.Mark {
 	n := turn.NewNotes()
@@ -156,7 +164,8 @@ func Copied[T any](p *T) *T {
 	return &q
 }
 
-// Load, Store and CAS answer the marks of operations done to that word.
+// Load, Store, Add and CAS answer the marks of operations done to that word.
 func Load(word int) api.Mark  { return api.Mark{Op: api.OpLoad, Word: word} }
 func Store(word int) api.Mark { return api.Mark{Op: api.OpStore, Word: word} }
+func Add(word int) api.Mark   { return api.Mark{Op: api.OpAdd, Word: word} }
 func CAS(word int) api.Mark   { return api.Mark{Op: api.OpCAS, Word: word} }

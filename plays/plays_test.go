@@ -4,6 +4,7 @@ import (
 	"fmt"
 	"slices"
 	"sync"
+	"sync/atomic"
 	"testing"
 
 	"patchbay/api"
@@ -203,6 +204,20 @@ func TestFree(t *testing.T) {
 	}
 }
 
+func TestFreely(t *testing.T) {
+	for n, ends := range map[int]bool{0: true, 1: false, 3: false, api.MaxThreads: false, api.MaxThreads + 1: true} {
+		var ran atomic.Int64
+		texts, ended := ending(func(t Test) { Freely(t, n, func(k int) { ran.Add(1 << k) }) })
+		want := int64(1)<<n - 1
+		if ends {
+			want = 0
+		}
+		if ended != ends || (len(texts) == 1) != ends || ran.Load() != want {
+			t.Errorf("Freely of %d: told %q, ended: %v, %b ran", n, texts, ended, ran.Load())
+		}
+	}
+}
+
 func TestTold(t *testing.T) {
 	marks := Told(func(g api.Gate) { stepping(3)()[0](g) })
 	if !slices.Equal(marks, []api.Mark{Load(0), Load(1), Load(2)}) {
@@ -241,8 +256,8 @@ func TestCutOff(t *testing.T) {
 
 func TestMarks(t *testing.T) {
 	for _, word := range []int{0, 1, 7, -1, 1 << 40} {
-		got := []api.Mark{Load(word), Store(word), CAS(word)}
-		if want := []api.Mark{{Op: api.OpLoad, Word: word}, {Op: api.OpStore, Word: word}, {Op: api.OpCAS, Word: word}}; !slices.Equal(got, want) {
+		got := []api.Mark{Load(word), Store(word), Add(word), CAS(word)}
+		if want := []api.Mark{{Op: api.OpLoad, Word: word}, {Op: api.OpStore, Word: word}, {Op: api.OpAdd, Word: word}, {Op: api.OpCAS, Word: word}}; !slices.Equal(got, want) {
 			t.Errorf("%v, not %v", got, want)
 		}
 	}

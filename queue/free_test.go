@@ -23,14 +23,6 @@ func gateOf(run, k int) api.Gate {
 	return nil
 }
 
-// free runs so many threads at a time, each with its number.
-func free(t *testing.T, threads int, body func(k int)) {
-	t.Helper()
-	if e := plays.Free(threads, body); e != api.OK {
-		t.Fatalf("Free: %v", e)
-	}
-}
-
 // run is a queue that is used freely: some threads put values in, the others take them out.
 type run struct {
 	queue  *Queue
@@ -135,7 +127,7 @@ func TestP75FreeManyAndMany(t *testing.T) {
 		for round := range 4 {
 			r := &run{queue: made(t, x.n), each: 8000 / uint64(x.putters), one: x.putters+x.takers == 2}
 			lists := make([][]uint64, x.takers)
-			free(t, x.putters+x.takers, func(k int) {
+			plays.Freely(t, x.putters+x.takers, func(k int) {
 				if g := gateOf(round+i, k); k < x.putters {
 					r.putAll(t, k, g)
 				} else {
@@ -159,7 +151,7 @@ func TestP75FreePutsAlone(t *testing.T) {
 		n := sizes()[i%6]
 		q := made(t, n)
 		var said [8][]bool
-		free(t, len(said), func(k int) {
+		plays.Freely(t, len(said), func(k int) {
 			for j := range uint64(n) {
 				ok, _ := q.Put(gateOf(i, k), value(k, j))
 				said[k] = append(said[k], ok)
@@ -188,7 +180,7 @@ func TestP75FreeTakesAlone(t *testing.T) {
 		n := sizes()[i%6]
 		q := madeOf(t, standing(n, uint64(i), from(0, n)...))
 		var took [8][]uint64
-		free(t, len(took), func(k int) {
+		plays.Freely(t, len(took), func(k int) {
 			for range n {
 				took[k] = append(took[k], ask{kind(1 + (i+k)%2), 0}.of(q, gateOf(i, k)).took...)
 			}
@@ -208,7 +200,7 @@ func TestP75FreeWhatIsLeft(t *testing.T) {
 	for i, n := range slices.Repeat(sizes()[:6], 3) {
 		q := made(t, n)
 		var in, out [8][]uint64
-		free(t, len(in), func(k int) {
+		plays.Freely(t, len(in), func(k int) {
 			g := gateOf(i, k)
 			for j := range uint64(4000) {
 				if ok, _ := q.Put(g, value(k, j)); ok {
@@ -254,7 +246,7 @@ func TestP76FreeCallsEnd(t *testing.T) {
 	const calls = 10000
 	for i, n := range []int{2, 4, 2, 4} {
 		q := made(t, n)
-		free(t, 8, func(k int) {
+		plays.Freely(t, 8, func(k int) {
 			for j := range uint64(calls) {
 				for _, a := range []ask{{doPut, j + 1}, {doTake, 0}, {doDrain, 0}} {
 					got := a.of(q, gateOf(i, k))

@@ -93,20 +93,12 @@ func gatesOfTwo() [][2]api.Gate {
 	return [][2]api.Gate{{nil, nil}, {nil, yielding{}}, {yielding{}, nil}, {yielding{}, yielding{}}}
 }
 
-// free runs so many threads at a time, each with its number.
-func free(t *testing.T, threads int, body func(k int)) {
-	t.Helper()
-	if e := plays.Free(threads, body); e != api.OK {
-		t.Fatalf("Free: %v", e)
-	}
-}
-
 func TestP63FreeOneAndOne(t *testing.T) {
 	const all = 20000
 	for _, n := range []int{1, 2, 8, 64, api.MaxSlots} {
 		for _, g := range gatesOfTwo() {
 			x := &run{ring: made(t, n)}
-			free(t, 2, func(k int) {
+			plays.Freely(t, 2, func(k int) {
 				if k == 0 {
 					x.putAll(t, g[0], 0, all)
 				} else {
@@ -126,7 +118,7 @@ func TestP63FreeAndWhatIsLeft(t *testing.T) {
 		for v := range uint64(n) {
 			left = append(left, all+v)
 		}
-		free(t, 2, func(k int) {
+		plays.Freely(t, 2, func(k int) {
 			if k == 0 {
 				x.putAll(t, nil, 0, all+uint64(n))
 			} else {
@@ -145,7 +137,7 @@ func TestP63FreeOneAtATime(t *testing.T) {
 		x := &run{ring: made(t, n)}
 		var putting, taking sync.Mutex
 		put, took := uint64(0), uint64(0)
-		free(t, 6, func(k int) {
+		plays.Freely(t, 6, func(k int) {
 			for {
 				mutex, next, do := &putting, &put, x.putAll
 				if k%2 == 1 {
@@ -172,7 +164,7 @@ func TestP64FreeLens(t *testing.T) {
 	for _, n := range []int{1, 2, 16} {
 		for _, g := range gatesOfTwo() {
 			x := &run{ring: made(t, n)}
-			free(t, 4, func(k int) {
+			plays.Freely(t, 4, func(k int) {
 				switch k {
 				case 0:
 					x.putAll(t, g[0], 0, all)
@@ -189,7 +181,7 @@ func TestP64FreeLens(t *testing.T) {
 
 func TestP64FreeLensBesidePutsAlone(t *testing.T) {
 	x := &run{ring: made(t, api.MaxSlots)}
-	free(t, 3, func(k int) {
+	plays.Freely(t, 3, func(k int) {
 		if k == 0 {
 			x.putAll(t, yielding{}, 0, api.MaxSlots)
 			return
@@ -227,7 +219,7 @@ func TestP65FreeCallsEnd(t *testing.T) {
 	const calls = 20000
 	for _, n := range []uint64{1, 4} {
 		r := made(t, int(n))
-		free(t, 8, func(k int) {
+		plays.Freely(t, 8, func(k int) {
 			for i := range uint64(calls) {
 				for _, a := range []ask{{doPut, i}, {doTake, 0}, {doLen, 0}} {
 					got := a.of(r, nil)

@@ -23,14 +23,6 @@ func gateOf(run, k int) api.Gate {
 	return nil
 }
 
-// free runs so many threads at a time, each with its number.
-func free(t *testing.T, threads int, body func(k int)) {
-	t.Helper()
-	if e := plays.Free(threads, body); e != api.OK {
-		t.Fatalf("Free: %v", e)
-	}
-}
-
 // numberOf is the i-th number of a thread.
 func numberOf(k, i int) uint64 { return uint64(k)<<32 | uint64(i) }
 
@@ -121,7 +113,7 @@ func TestP84FreeWhatIsLeft(t *testing.T) {
 	for i, n := range slices.Repeat(sizes()[:7], 4) {
 		x := &run{stack: made(t, n)}
 		var in, out [8][]uint64
-		free(t, len(in), func(k int) {
+		plays.Freely(t, len(in), func(k int) {
 			g := gateOf(i, k)
 			for j := 0; j < 4000 && !x.wrong.Load(); j++ {
 				if x.push(t, g, numberOf(k, j)) {
@@ -151,7 +143,7 @@ func TestP84FreeManyAndMany(t *testing.T) {
 			each := 8000 / x.pushers
 			var ended atomic.Int64
 			in, out := make([][]uint64, x.pushers), make([][]uint64, x.poppers)
-			free(t, x.pushers+x.poppers, func(k int) {
+			plays.Freely(t, x.pushers+x.poppers, func(k int) {
 				g := gateOf(i+round, k)
 				if k < x.pushers {
 					defer ended.Add(1)
@@ -186,7 +178,7 @@ func TestP84FreePushesAlone(t *testing.T) {
 		n := sizes()[i%7]
 		x := &run{stack: made(t, n)}
 		var in [8][]uint64
-		free(t, len(in), func(k int) {
+		plays.Freely(t, len(in), func(k int) {
 			for j := range n {
 				if x.push(t, gateOf(i, k), numberOf(k, j)) {
 					in[k] = append(in[k], numberOf(k, j))
@@ -208,7 +200,7 @@ func TestP84FreePopsAlone(t *testing.T) {
 		x := &run{stack: madeOf(t, tagged(tags-uint64(i), tags-1, standing(n, from(0, n)...)))}
 		x.pushed.Store(int64(n))
 		var out [8][]uint64
-		free(t, len(out), func(k int) {
+		plays.Freely(t, len(out), func(k int) {
 			for range n {
 				if v, ok := x.pop(t, gateOf(i, k)); ok {
 					out[k] = append(out[k], v)
