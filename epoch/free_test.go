@@ -11,19 +11,6 @@ import (
 	"patchbay/plays"
 )
 
-// yielding is a gate that lets others run: they meet more often then.
-type yielding struct{}
-
-func (yielding) Step(api.Mark) { runtime.Gosched() }
-
-// gateOf is none in every other run, and none for some of the threads in the others.
-func gateOf(run, k int) api.Gate {
-	if run%2 == 1 && (run/2+k)%3 != 0 {
-		return yielding{}
-	}
-	return nil
-}
-
 // run is a domain that is used freely.
 type run struct {
 	domain *epoch.Domain
@@ -85,7 +72,7 @@ func TestP93FreeHeld(t *testing.T) {
 			x := &run{domain: made(t, y.slots)}
 			var ended atomic.Int64
 			plays.Freely(t, y.slots+y.movers, func(k int) {
-				g := gateOf(i+round, k)
+				g := plays.GateOf(i+round, k)
 				if k >= y.slots {
 					for ended.Load() < int64(y.slots) && !x.wrong.Load() {
 						x.ask(t, g, k, move())
@@ -123,7 +110,7 @@ func TestP93FreeSlotsThatAreHandedOn(t *testing.T) {
 				idle <- slot
 			}
 			plays.Freely(t, 8, func(k int) {
-				g := gateOf(i+round, k)
+				g := plays.GateOf(i+round, k)
 				for j := 0; j < 1500 && !x.wrong.Load(); j++ {
 					select {
 					case slot := <-idle:
@@ -152,7 +139,7 @@ func TestP93FreeMovesAlone(t *testing.T) {
 		x := &run{domain: made(t, 1+i%api.MaxPins)}
 		plays.Freely(t, 8, func(k int) {
 			for range 1000 {
-				x.ask(t, gateOf(i, k), k, move())
+				x.ask(t, plays.GateOf(i, k), k, move())
 			}
 		})
 		x.ends(t)
@@ -211,7 +198,7 @@ func TestP94FreeTakenAway(t *testing.T) {
 			var kept [api.MaxThreads][]away
 			var ended atomic.Int64
 			plays.Freely(t, y.users+y.swappers, func(k int) {
-				g := gateOf(i+round, k)
+				g := plays.GateOf(i+round, k)
 				if k < y.users {
 					for ended.Load() < int64(y.swappers) && !x.wrong.Load() {
 						x.use(t, g, k, 3)
@@ -283,6 +270,6 @@ func TestP93FreeAnswersAreThoseOfAnOrder(t *testing.T) {
 		{0, at(2, 1), [][]ask{one(pin(0)), one(pin(1))}},
 		{0, at(1, 1), [][]ask{one(pin(0)), moves(1), one(now())}},
 	} {
-		plays.AsOfAnOrder(t, 1000, gateOf, x.asks, func() asked { return asIs(x.start.domain(t)) })
+		plays.AsOfAnOrder(t, 1000, plays.GateOf, x.asks, func() asked { return asIs(x.start.domain(t)) })
 	}
 }

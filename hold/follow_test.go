@@ -458,10 +458,9 @@ func TestP102LongPlaysOfOneSlot(t *testing.T) {
 			asks[k] = l.asks(k, 40, 0, x.n-1)
 		}
 		h, w := x.hold(t), x.twin()
-		p, calls, e := plays.Asked(plays.Drawn(l.from.IntN, 1000, threads, 1+i%12), asks, asking(h))
-		want, wanted, _ := plays.Asked(plays.Order(p.Trace), asks, asking(w))
-		if e != api.OK || len(p.Cut) != 0 || !slices.Equal(p.Trace, want.Trace) || !plays.SameCalls(calls, wanted, same) || !slices.Equal(look(h, x.n), look(w, x.n)) {
-			t.Fatalf("by %v: %v, cut %v: not as the steps say", plays.Order(p.Trace), e, p.Cut)
+		p, _ := plays.AsTwin(t, plays.Drawn(l.from.IntN, 1000, threads, 1+i%12), asks, asIs(h, x.n), asIs(w, x.n))
+		if len(p.Cut) != 0 {
+			t.Fatalf("by %v: cut %v", plays.Order(p.Trace), p.Cut)
 		}
 		met.add(w.met)
 	}

@@ -1,7 +1,6 @@
 package hold_test
 
 import (
-	"fmt"
 	"slices"
 	"testing"
 
@@ -121,10 +120,7 @@ func is(t *testing.T, name string, o object, g api.Gate, a ask, want answer) {
 // tells ends in an error, if a hold of so many slots answers otherwise, or tells its gate of other operations.
 func tells(t *testing.T, name string, h *texts, a ask, want answer, marks ...api.Mark) {
 	t.Helper()
-	// In a play, so that a call that goes round for ever is cut off.
-	plays.AsTold(t, fmt.Sprintf("%s: %v", name, a), asked{Of: asking(h), Same: same}, plays.Example[ask, answer]{
-		Asks: [][]ask{{a}}, Want: []answer{want}, Threads: make([]int, len(marks)), Marks: marks,
-	})
+	plays.Tells(t, name, asked{Of: asking(h), Same: same}, a, want, marks...)
 }
 
 // load, store and cas are the marks of operations of that word.

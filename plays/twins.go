@@ -23,15 +23,32 @@ func Twins[Q comparable, A any](t Test, turns int, asks [][]Q, object, twin func
 			o = object()
 			return o.Of
 		}) {
-			w := twin()
-			want, wanted, _ := Asked(Order(p.Trace), asks, w.Of)
-			if !slices.Equal(p.Trace, want.Trace) || !SameCalls(calls, wanted, o.Same) || !slices.Equal(o.Words(), w.Words()) {
-				t.Fatalf("by %v: %v, %v, %v; not %v, %v, %v", Order(p.Trace), p.Trace, calls, o.Words(), want.Trace, wanted, w.Words())
-			}
+			alike(t, p, calls, asks, o, twin())
 			if !yield(p, calls) {
 				return
 			}
 		}
+	}
+}
+
+// AsTwin plays by that order threads that ask so of an object, and answers the play and the calls; it holds them against those of the object's twin as Twins does.
+func AsTwin[Q comparable, A any](t Test, order []int, asks [][]Q, object, twin Object[Q, A]) (api.Played, []Done[Q, A]) {
+	t.Helper()
+	p, calls, e := Asked(order, asks, object.Of)
+	if e != api.OK {
+		t.Fatalf("a play of %d threads by %d numbers: %v", len(asks), len(order), e)
+	}
+	alike(t, p, calls, asks, object, twin)
+	return p, calls
+}
+
+// alike is the test's end, unless threads that ask the twin so, by the order of a play of those that ask the object, play the same.
+func alike[Q comparable, A any](t Test, p api.Played, calls []Done[Q, A], asks [][]Q, object, twin Object[Q, A]) {
+	t.Helper()
+	want, wanted, _ := Asked(Order(p.Trace), asks, twin.Of)
+	same := slices.Equal(p.Trace, want.Trace) && SameCalls(calls, wanted, object.Same)
+	if words, twins := object.Words(), twin.Words(); !same || !slices.Equal(words, twins) {
+		t.Fatalf("by %v: %v, %v, %v; not %v, %v, %v", Order(p.Trace), p.Trace, calls, words, want.Trace, wanted, twins)
 	}
 }
 
@@ -56,15 +73,32 @@ func AsTold[Q, A any](t Test, name string, o Object[Q, A], x Example[Q, A]) {
 	t.Helper()
 	p, calls, e := Asked(x.Order, x.Asks, o.Of)
 	if want := Trace(x.Threads, x.Marks...); e != api.OK || !slices.Equal(p.Trace, want) {
-		t.Errorf("%s: %v, %v, not %v", name, e, p.Trace, want)
+		t.Errorf("%s: %v: %v, %v, not %v", name, x.Asks, e, p.Trace, want)
 	}
 	got := make([]A, len(x.Asks))
 	for _, d := range calls {
 		got[d.Thread] = d.Answer
 	}
 	if !slices.EqualFunc(got, x.Want, o.Same) {
-		t.Errorf("%s: %v, not %v", name, got, x.Want)
+		t.Errorf("%s: %v: %v, not %v", name, x.Asks, got, x.Want)
 	}
+}
+
+// Is asks an object, and ends in an error where it answers otherwise.
+func Is[Q, A any](t Test, name string, o Object[Q, A], g api.Gate, q Q, want A) {
+	t.Helper()
+	if got := o.Of(q, g); !o.Same(got, want) {
+		t.Errorf("%s: %v: %v, not %v", name, q, got, want)
+	}
+}
+
+// Tells asks an object, and ends in an error where it answers otherwise, or tells its gate of other operations.
+func Tells[Q, A any](t Test, name string, o Object[Q, A], q Q, want A, marks ...api.Mark) {
+	t.Helper()
+	// In a play, so that a call that goes round for ever is cut off.
+	AsTold(t, name, o, Example[Q, A]{
+		Asks: [][]Q{{q}}, Want: []A{want}, Threads: make([]int, len(marks)), Marks: marks,
+	})
 }
 
 // outcome is what came of threads that asked an object: each thread's answers, and the words behind them.

@@ -7,6 +7,7 @@ import (
 	"testing"
 
 	"patchbay/api"
+	"patchbay/turn"
 )
 
 // faults are what may be wrong with a sum: who adds up to that sum, or adds freely, is answered so much more, leaves so much more there, and tells its gate of a higher word.
@@ -94,6 +95,40 @@ func TestTwinsThatAreNotAlike(t *testing.T) {
 	}
 }
 
+func TestAsTwin(t *testing.T) {
+	asks := [][]uint64{{1, 4}, {2}}
+	order := []int{0, 1, 0, 0, 1}
+	want, wanted, _ := Asked(order, asks, adding(faults{}).Of)
+	p, calls := AsTwin(t, order, asks, adding(faults{}), adding(faults{}))
+	if !slices.Equal(p.Trace, want.Trace) || !slices.Equal(calls, wanted) {
+		t.Errorf("%v, %v, not %v, %v", p.Trace, calls, want.Trace, wanted)
+	}
+	// One that is cut off is so for the twin, too.
+	long := [][]uint64{slices.Repeat([]uint64{1}, api.MaxTurns), {2}}
+	if p, calls := AsTwin(t, order, long, adding(faults{}), adding(faults{})); len(p.Trace) != api.MaxTurns || !slices.Equal(p.Cut, []int{0}) || len(calls) != api.MaxTurns/2 {
+		t.Errorf("%d turns, cut %v: %d calls", len(p.Trace), p.Cut, len(calls))
+	}
+}
+
+func TestAsTwinThatIsNotAlike(t *testing.T) {
+	for name, f := range map[string]faults{
+		"another answer": {sum: 7, answer: 1},
+		"another word":   {sum: 7, store: 1},
+		"another trace":  {sum: 7, word: 1},
+	} {
+		for i, twin := range []faults{f, {}} {
+			object := []faults{{}, f}[i]
+			texts, ended := ending(func(t Test) { AsTwin(t, []int{1, 1}, [][]uint64{{1, 4}, {2}}, adding(object), adding(twin)) })
+			if !ended || len(texts) != 1 {
+				t.Errorf("%s: told %q, ended: %v", name, texts, ended)
+			}
+		}
+	}
+	if texts, ended := ending(func(t Test) { AsTwin(t, nil, nil, adding(faults{}), adding(faults{})) }); !ended || len(texts) != 1 {
+		t.Errorf("a play of no threads: told %q, ended: %v", texts, ended)
+	}
+}
+
 func TestSameCalls(t *testing.T) {
 	d := Done[int, int]{1, 2, 3, 4, 5}
 	for i, x := range []Done[int, int]{{1, 2, 3, 4, 5}, {0, 2, 3, 4, 5}, {1, 0, 3, 4, 5}, {1, 2, 0, 4, 5}, {1, 2, 3, 0, 5}, {1, 2, 3, 4, 0}} {
@@ -131,6 +166,44 @@ func TestAsTold(t *testing.T) {
 	}
 	if texts, _ := ending(func(t Test) { AsTold(t, "none", adding(faults{}), Example[uint64, uint64]{}) }); len(texts) != 1 {
 		t.Errorf("a play of no threads: told %q", texts)
+	}
+}
+
+func TestIs(t *testing.T) {
+	x := adding(faults{sum: 7, answer: 1})
+	Is(t, "as it is", x, nil, 5, 5)
+	n := turn.NewNotes()
+	if texts, ended := ending(func(t Test) { Is(t, "another answer", x, n, 2, 7) }); len(texts) != 1 || ended || len(n.Marks()) != 2 {
+		t.Errorf("told %q, ended: %v; its gate %v", texts, ended, n.Marks())
+	}
+}
+
+func TestTells(t *testing.T) {
+	marks := []api.Mark{Load(0), Load(0)}
+	Tells(t, "as it is", adding(faults{}), 5, 5, marks...)
+	for name, x := range map[string]struct {
+		f     faults
+		want  uint64
+		marks []api.Mark
+	}{
+		"another answer":      {faults{}, 6, marks},
+		"another mark":        {faults{sum: 5, word: 1}, 5, marks},
+		"one that is too few": {faults{}, 5, marks[:1]},
+		"none":                {faults{}, 5, nil},
+	} {
+		if texts, ended := ending(func(t Test) { Tells(t, name, adding(x.f), 5, x.want, x.marks...) }); len(texts) != 1 || ended {
+			t.Errorf("%s: told %q, ended: %v", name, texts, ended)
+		}
+	}
+	// One that never ends is cut off.
+	endless := adding(faults{})
+	endless.Of = func(n uint64, g api.Gate) uint64 {
+		for {
+			g.Step(Load(0))
+		}
+	}
+	if texts, ended := ending(func(t Test) { Tells(t, "one that never ends", endless, 5, 5, marks...) }); len(texts) == 0 || ended {
+		t.Errorf("one that never ends: told %d texts, ended: %v", len(texts), ended)
 	}
 }
 

@@ -10,19 +10,6 @@ import (
 	"patchbay/plays"
 )
 
-// yielding is a gate that lets others run: they meet more often then.
-type yielding struct{}
-
-func (yielding) Step(api.Mark) { runtime.Gosched() }
-
-// gateOf is none in every other run, and none for all but a few threads in the others.
-func gateOf(run, k int) api.Gate {
-	if run%2 == 1 && (run/2+k)%3 != 0 {
-		return yielding{}
-	}
-	return nil
-}
-
 // run is a queue that is used freely: some threads put values in, the others take them out.
 type run struct {
 	queue  *Queue
@@ -128,7 +115,7 @@ func TestP75FreeManyAndMany(t *testing.T) {
 			r := &run{queue: made(t, x.n), each: 8000 / uint64(x.putters), one: x.putters+x.takers == 2}
 			lists := make([][]uint64, x.takers)
 			plays.Freely(t, x.putters+x.takers, func(k int) {
-				if g := gateOf(round+i, k); k < x.putters {
+				if g := plays.GateOf(round+i, k); k < x.putters {
 					r.putAll(t, k, g)
 				} else {
 					lists[k-x.putters] = r.takeAll(t, int64(x.putters), g)
@@ -153,7 +140,7 @@ func TestP75FreePutsAlone(t *testing.T) {
 		var said [8][]bool
 		plays.Freely(t, len(said), func(k int) {
 			for j := range uint64(n) {
-				ok, _ := q.Put(gateOf(i, k), value(k, j))
+				ok, _ := q.Put(plays.GateOf(i, k), value(k, j))
 				said[k] = append(said[k], ok)
 			}
 		})
@@ -182,7 +169,7 @@ func TestP75FreeTakesAlone(t *testing.T) {
 		var took [8][]uint64
 		plays.Freely(t, len(took), func(k int) {
 			for range n {
-				took[k] = append(took[k], ask{kind(1 + (i+k)%2), 0}.of(q, gateOf(i, k)).took...)
+				took[k] = append(took[k], ask{kind(1 + (i+k)%2), 0}.of(q, plays.GateOf(i, k)).took...)
 			}
 		})
 		for _, list := range took {
@@ -201,7 +188,7 @@ func TestP75FreeWhatIsLeft(t *testing.T) {
 		q := made(t, n)
 		var in, out [8][]uint64
 		plays.Freely(t, len(in), func(k int) {
-			g := gateOf(i, k)
+			g := plays.GateOf(i, k)
 			for j := range uint64(4000) {
 				if ok, _ := q.Put(g, value(k, j)); ok {
 					in[k] = append(in[k], value(k, j))
@@ -237,7 +224,7 @@ func TestP72FreeAnswersAreThoseOfAnOrder(t *testing.T) {
 		{standing(2, 0), [][]ask{puts(5, 6), takes(2)}},
 		{standing(2, top, 3, 4), [][]ask{drains(1), puts(5)}},
 	} {
-		plays.AsOfAnOrder(t, 2000, gateOf, x.asks, func() asked { return asIs(madeOf(t, x.words)) })
+		plays.AsOfAnOrder(t, 2000, plays.GateOf, x.asks, func() asked { return asIs(madeOf(t, x.words)) })
 	}
 }
 
@@ -249,7 +236,7 @@ func TestP76FreeCallsEnd(t *testing.T) {
 		plays.Freely(t, 8, func(k int) {
 			for j := range uint64(calls) {
 				for _, a := range []ask{{doPut, j + 1}, {doTake, 0}, {doDrain, 0}} {
-					got := a.of(q, gateOf(i, k))
+					got := a.of(q, plays.GateOf(i, k))
 					if got.e != api.OK || len(got.took) > n || slices.Contains(got.took, 0) || a.kind == doTake && got.ok != (len(got.took) == 1) {
 						t.Errorf("%v: %v", a, got)
 					}

@@ -10,11 +10,6 @@ import (
 	"patchbay/plays"
 )
 
-// yielding is a gate that lets others run: they meet more often then.
-type yielding struct{}
-
-func (yielding) Step(api.Mark) { runtime.Gosched() }
-
 // run is a ring that is used freely; how many Puts and Takes have said true; whether something was wrong: then nobody goes on.
 type run struct {
 	ring     *Ring
@@ -90,7 +85,7 @@ func (x *run) look(t *testing.T, g api.Gate, all uint64) {
 
 // gatesOfTwo are all ways in which one that puts and one that takes are held up, or not.
 func gatesOfTwo() [][2]api.Gate {
-	return [][2]api.Gate{{nil, nil}, {nil, yielding{}}, {yielding{}, nil}, {yielding{}, yielding{}}}
+	return [][2]api.Gate{{nil, nil}, {nil, plays.Yielding{}}, {plays.Yielding{}, nil}, {plays.Yielding{}, plays.Yielding{}}}
 }
 
 func TestP63FreeOneAndOne(t *testing.T) {
@@ -183,7 +178,7 @@ func TestP64FreeLensBesidePutsAlone(t *testing.T) {
 	x := &run{ring: made(t, api.MaxSlots)}
 	plays.Freely(t, 3, func(k int) {
 		if k == 0 {
-			x.putAll(t, yielding{}, 0, api.MaxSlots)
+			x.putAll(t, plays.Yielding{}, 0, api.MaxSlots)
 			return
 		}
 		for last := 0; last < api.MaxSlots && !x.wrong.Load(); {

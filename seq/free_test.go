@@ -1,7 +1,6 @@
 package seq_test
 
 import (
-	"runtime"
 	"slices"
 	"testing"
 
@@ -23,15 +22,10 @@ func free(t *testing.T, body func(k int)) {
 	}
 }
 
-// yielding is a gate that lets others run: they meet more often then.
-type yielding struct{}
-
-func (yielding) Step(api.Mark) { runtime.Gosched() }
-
 // gateOf is none for all but a few threads.
 func gateOf(k int) api.Gate {
 	if k%4 == 3 {
-		return yielding{}
+		return plays.Yielding{}
 	}
 	return nil
 }

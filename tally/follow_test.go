@@ -152,10 +152,9 @@ func TestP114LongPlays(t *testing.T) {
 			x.asks[k] = l.asks(60, x.n, most)
 		}
 		o, w := made(t, x.n, x.ahead...), twinOf(x.n, x.ahead...)
-		p, calls, e := plays.Asked(plays.Drawn(l.from.IntN, 2000, len(x.asks), 1+i%24), x.asks, asIs(o).Of)
-		want, wanted, _ := plays.Asked(plays.Order(p.Trace), x.asks, asIs(w).Of)
-		if e != api.OK || len(p.Cut) != 0 || !slices.Equal(p.Trace, want.Trace) || !plays.SameCalls(calls, wanted, sameAnswer) || !slices.Equal(asIs(o).Words(), w.words) {
-			t.Fatalf("by %v: %v, cut %v: not as the steps say", plays.Order(p.Trace), e, p.Cut)
+		p, calls := plays.AsTwin(t, plays.Drawn(l.from.IntN, 2000, len(x.asks), 1+i%24), x.asks, asIs(o), asIs(w))
+		if len(p.Cut) != 0 {
+			t.Fatalf("by %v: cut %v", plays.Order(p.Trace), p.Cut)
 		}
 		x.follows(t, p, o, calls)
 		met.add(w.met)
@@ -194,10 +193,9 @@ func TestP114LongPlaysOfHists(t *testing.T) {
 			x.asks[k] = l.comes(40, bits)
 		}
 		o, w := filled(t, x.ahead...), x.twin()
-		p, calls, e := plays.Asked(plays.Drawn(l.from.IntN, 1500, len(x.asks), 1+i%7), x.asks, histIs(o).Of)
-		want, wanted, _ := plays.Asked(plays.Order(p.Trace), x.asks, histIs(w).Of)
-		if e != api.OK || len(p.Cut) != 0 || !slices.Equal(p.Trace, want.Trace) || !plays.SameCalls(calls, wanted, sameTold) || !slices.Equal(histIs(o).Words(), w.words[:]) {
-			t.Fatalf("by %v: %v, cut %v: not as the steps say", plays.Order(p.Trace), e, p.Cut)
+		p, calls := plays.AsTwin(t, plays.Drawn(l.from.IntN, 1500, len(x.asks), 1+i%7), x.asks, histIs(o), histIs(w))
+		if len(p.Cut) != 0 {
+			t.Fatalf("by %v: cut %v", plays.Order(p.Trace), p.Cut)
 		}
 		x.follows(t, p, o, calls)
 		met.add(w.met)

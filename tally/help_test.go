@@ -1,7 +1,6 @@
 package tally_test
 
 import (
-	"fmt"
 	"slices"
 	"testing"
 
@@ -177,7 +176,7 @@ func made(t *testing.T, n int, ahead ...uint64) *tally.Tally {
 		t.Fatalf("New(%d): %v, %v", n, x, e)
 	}
 	for shard, v := range ahead {
-		is(t, "the start", asIs(x), nil, add(shard, v), number(v))
+		plays.Is(t, "the start", asIs(x), nil, add(shard, v), number(v))
 	}
 	return x
 }
@@ -190,7 +189,7 @@ func filled(t *testing.T, numbers ...uint64) *tally.Hist {
 		t.Fatalf("NewHist: nil")
 	}
 	for _, a := range comes(numbers...) {
-		is(t, "the start", histIs(x), nil, a, told{})
+		plays.Is(t, "the start", histIs(x), nil, a, told{})
 	}
 	return x
 }
@@ -222,23 +221,6 @@ func histIs(o histogram) askedHist {
 	}
 }
 
-// is ends in an error, if an object answers otherwise.
-func is[Q, A any](t *testing.T, name string, o plays.Object[Q, A], g api.Gate, q Q, want A) {
-	t.Helper()
-	if got := o.Of(q, g); !o.Same(got, want) {
-		t.Errorf("%s: %v: %v, not %v", name, q, got, want)
-	}
-}
-
-// tells ends in an error, if an object answers otherwise, or tells its gate of other operations.
-func tells[Q, A any](t *testing.T, name string, o plays.Object[Q, A], q Q, want A, marks ...api.Mark) {
-	t.Helper()
-	// In a play, so that a call that goes round for ever is cut off.
-	plays.AsTold(t, fmt.Sprintf("%s: %v", name, q), o, plays.Example[Q, A]{
-		Asks: [][]Q{{q}}, Want: []A{want}, Threads: make([]int, len(marks)), Marks: marks,
-	})
-}
-
 // holds ends in an error, unless just that was added to a tally, shard by shard.
 func holds(t *testing.T, name string, x *tally.Tally, list ...uint64) {
 	t.Helper()
@@ -246,12 +228,12 @@ func holds(t *testing.T, name string, x *tally.Tally, list ...uint64) {
 	for _, v := range list {
 		all += v
 	}
-	is(t, name, asIs(x), nil, parts(), shards(list...))
-	is(t, name, asIs(x), nil, sum(), number(all))
+	plays.Is(t, name, asIs(x), nil, parts(), shards(list...))
+	plays.Is(t, name, asIs(x), nil, sum(), number(all))
 }
 
 // has ends in an error, unless just these numbers came to a Hist.
 func has(t *testing.T, name string, x *tally.Hist, numbers ...uint64) {
 	t.Helper()
-	is(t, name, histIs(x), nil, get(), told{hist: histOf(numbers...)})
+	plays.Is(t, name, histIs(x), nil, get(), told{hist: histOf(numbers...)})
 }

@@ -419,7 +419,7 @@ func TestP114WhatIsCutOff(t *testing.T) {
 		if got, want := histIs(o).Words(), w.words[:]; !slices.Equal(got, want) {
 			t.Errorf("behind %d operations: %v, not %v", ops, got, want)
 		}
-		is(t, "behind it", histIs(o), nil, come{v: 4}, told{})
+		plays.Is(t, "behind it", histIs(o), nil, come{v: 4}, told{})
 		w.Add(nil, 4)
 		if got, want := histIs(o).Words(), w.words[:]; !slices.Equal(got, want) {
 			t.Errorf("behind %d operations: %v, not %v", ops, got, want)
