@@ -11,6 +11,9 @@ import (
 	"patchbay/plays"
 )
 
+// gateOf tells the gate of a thread of a free run: none, or one that lets others run.
+var gateOf = plays.Gates(runtime.Gosched)
+
 // run is a domain that is used freely.
 type run struct {
 	domain *epoch.Domain
@@ -72,7 +75,7 @@ func TestP93FreeHeld(t *testing.T) {
 			x := &run{domain: made(t, y.slots)}
 			var ended atomic.Int64
 			plays.Freely(t, y.slots+y.movers, func(k int) {
-				g := plays.GateOf(i+round, k)
+				g := gateOf(i+round, k)
 				if k >= y.slots {
 					for ended.Load() < int64(y.slots) && !x.wrong.Load() {
 						x.ask(t, g, k, move())
@@ -110,7 +113,7 @@ func TestP93FreeSlotsThatAreHandedOn(t *testing.T) {
 				idle <- slot
 			}
 			plays.Freely(t, 8, func(k int) {
-				g := plays.GateOf(i+round, k)
+				g := gateOf(i+round, k)
 				for j := 0; j < 1500 && !x.wrong.Load(); j++ {
 					select {
 					case slot := <-idle:
@@ -139,7 +142,7 @@ func TestP93FreeMovesAlone(t *testing.T) {
 		x := &run{domain: made(t, 1+i%api.MaxPins)}
 		plays.Freely(t, 8, func(k int) {
 			for range 1000 {
-				x.ask(t, plays.GateOf(i, k), k, move())
+				x.ask(t, gateOf(i, k), k, move())
 			}
 		})
 		x.ends(t)
@@ -198,7 +201,7 @@ func TestP94FreeTakenAway(t *testing.T) {
 			var kept [api.MaxThreads][]away
 			var ended atomic.Int64
 			plays.Freely(t, y.users+y.swappers, func(k int) {
-				g := plays.GateOf(i+round, k)
+				g := gateOf(i+round, k)
 				if k < y.users {
 					for ended.Load() < int64(y.swappers) && !x.wrong.Load() {
 						x.use(t, g, k, 3)
@@ -270,6 +273,6 @@ func TestP93FreeAnswersAreThoseOfAnOrder(t *testing.T) {
 		{0, at(2, 1), [][]ask{one(pin(0)), one(pin(1))}},
 		{0, at(1, 1), [][]ask{one(pin(0)), moves(1), one(now())}},
 	} {
-		plays.AsOfAnOrder(t, 1000, plays.GateOf, x.asks, func() asked { return asIs(x.start.domain(t)) })
+		plays.AsOfAnOrder(t, 1000, gateOf, x.asks, func() asked { return asIs(x.start.domain(t)) })
 	}
 }

@@ -12,6 +12,9 @@ import (
 	"patchbay/turn"
 )
 
+// gateOf tells the gate of a thread of a free run: none, or one that lets others run.
+var gateOf = plays.Gates(runtime.Gosched)
+
 // run is a gauge that is used freely, and what is known of it beside.
 type run struct {
 	t       *testing.T
@@ -103,7 +106,7 @@ func TestP146FreeEntersAndLeaves(t *testing.T) {
 		each := 6000 / n
 		x := begin(t, limit)
 		plays.Freely(t, n, func(k int) {
-			g, last := plays.GateOf(i, k), uint64(0)
+			g, last := gateOf(i, k), uint64(0)
 			for j := 0; j < each && !x.wrong.Load(); {
 				if !x.enter(g) {
 					runtime.Gosched()
@@ -132,7 +135,7 @@ func TestP146FreeLeavesOfOthers(t *testing.T) {
 		n := 2 + i%7
 		x := begin(t, limit)
 		plays.Freely(t, 2*n, func(k int) {
-			g := plays.GateOf(i, k/2)
+			g := gateOf(i, k/2)
 			for j := 0; j < 3000 && !x.wrong.Load(); j++ {
 				if k%2 == 0 {
 					x.tried.Add(1)
@@ -177,7 +180,7 @@ func TestP146FreeEntersAllAtOnce(t *testing.T) {
 		}
 		entered, came, gone := make([]atomic.Int64, gauges), make([]atomic.Int64, gauges), make([]atomic.Int64, gauges)
 		plays.Freely(t, all, func(k int) {
-			g := plays.GateOf(i, k)
+			g := gateOf(i, k)
 			for j, x := range list {
 				meet(&came[j], all)
 				if ok, _ := x.Enter(g); ok {
@@ -205,7 +208,7 @@ func TestP146FreePeaks(t *testing.T) {
 		limit := uint64([]int{all * each, all*each - 1, all * each / 2, all*each + 1}[i%4])
 		x := begin(t, limit)
 		plays.Freely(t, all, func(k int) {
-			g := plays.GateOf(i, k)
+			g := gateOf(i, k)
 			for range each {
 				x.enter(g)
 			}
@@ -223,7 +226,7 @@ type noted struct{ notes *turn.Notes }
 
 func (n noted) Step(m api.Mark) {
 	n.notes.Step(m)
-	plays.Yielding{}.Step(m)
+	plays.Yielding(runtime.Gosched).Step(m)
 }
 
 // rounds tells whether marks are those of a call that goes round: Loads and compare and swaps of a word, in turn; it answers the last one, and the marks behind them.
@@ -272,7 +275,7 @@ func TestP146FreeAnswersAreThoseOfAnOrder(t *testing.T) {
 		{0, 1, nil, [][]move{moves(enter, leave), moves(leave, enter)}},
 		{0, 3, moves(enter, enter), [][]move{moves(leave), moves(leave), moves(leave)}},
 	} {
-		plays.AsOfAnOrder(t, 1000, plays.GateOf, x.asks, func() askedRoom { return roomIs(made(t, x.limit, x.ahead...)) })
+		plays.AsOfAnOrder(t, 1000, gateOf, x.asks, func() askedRoom { return roomIs(made(t, x.limit, x.ahead...)) })
 	}
 	for _, x := range []switchPlay{
 		{0, of(2, 10), askers(2, bad(1), ask(11))},
@@ -281,7 +284,7 @@ func TestP146FreeAnswersAreThoseOfAnOrder(t *testing.T) {
 		{0, of(2, 10, bad(0), bad(0), ask(10)), [][]query{queries(good(11)), queries(bad(12)), queries(ask(22))}},
 		{0, of(1, 10), [][]query{queries(bad(1), look()), queries(bad(2), look()), queries(good(3))}},
 	} {
-		plays.AsOfAnOrder(t, 1000, plays.GateOf, x.asks, func() askedSwitcher { return switcherIs(x.start.breaker(t)) })
+		plays.AsOfAnOrder(t, 1000, gateOf, x.asks, func() askedSwitcher { return switcherIs(x.start.breaker(t)) })
 	}
 }
 
@@ -297,7 +300,7 @@ func TestP146FreeAsksOfOneTick(t *testing.T) {
 		}
 		came, let := make([]atomic.Int64, breakers), make([]atomic.Int64, breakers)
 		plays.Freely(t, all, func(k int) {
-			g := plays.GateOf(i, k)
+			g := gateOf(i, k)
 			for j, b := range list {
 				meet(&came[j], all)
 				if ok, _ := b.Ask(g, now); ok {
@@ -322,7 +325,7 @@ func TestP146FreeAsksOfAnOpenOne(t *testing.T) {
 		var let [api.MaxThreads][]uint64
 		var wrong atomic.Bool
 		plays.Freely(t, n, func(k int) {
-			g := plays.GateOf(i, k)
+			g := gateOf(i, k)
 			for j := range uint64(3000) {
 				now := (j + uint64(k)) * (wait/5 + 1)
 				if j%5 == 0 {
@@ -358,7 +361,7 @@ func TestP146FreeFails(t *testing.T) {
 		fails := uint64([]int{all*each + 1, all * each, all*each - 1, all * each / 2}[i%4])
 		b := of(fails, 10).breaker(t)
 		plays.Freely(t, all, func(k int) {
-			g := plays.GateOf(i, k)
+			g := gateOf(i, k)
 			for range each {
 				b.Tell(g, uint64(5+k), false)
 			}
@@ -392,7 +395,7 @@ func TestP146FreeAsksAndTells(t *testing.T) {
 		var clock atomic.Uint64
 		var wrong atomic.Bool
 		plays.Freely(t, 2+i%6, func(k int) {
-			g := plays.GateOf(i, k)
+			g := gateOf(i, k)
 			for now := clock.Add(1); now < 6000 && !wrong.Load(); now = clock.Add(1) {
 				got, told := ask(now).of(b, g), heard()
 				if got.ok {

@@ -11,6 +11,9 @@ import (
 	"patchbay/plays"
 )
 
+// gateOf tells the gate of a thread of a free run: none, or one that lets others run.
+var gateOf = plays.Gates(runtime.Gosched)
+
 // thing is a value that is published: whose it is, which one of these. It is whole, if both say the same of it.
 type thing struct {
 	thread, count int
@@ -54,7 +57,7 @@ func (x *run) fail(text string, about ...any) {
 // freely runs so many threads at a time.
 func (x *run) freely(threads int, body func(k int, g api.Gate)) {
 	x.t.Helper()
-	if e := plays.Free(threads, func(k int) { body(k, plays.GateOf(x.number, k)) }); e != api.OK {
+	if e := plays.Free(threads, func(k int) { body(k, gateOf(x.number, k)) }); e != api.OK {
 		x.t.Fatalf("Free: %v", e)
 	}
 }
@@ -388,6 +391,6 @@ func TestP107FreeAnswersAreThoseOfAnOrder(t *testing.T) {
 		{0, from(1), [][]ask{one(now(), now(), now()), one(put("b"), put("c"))}},
 		{0, from(1, enter(0)), [][]ask{one(leave(0)), one(put("b")), one(now())}},
 	} {
-		plays.AsOfAnOrder(t, 500, plays.GateOf, x.asks, func() asked { return asIs(x.start.hold(t), x.start.n) })
+		plays.AsOfAnOrder(t, 500, gateOf, x.asks, func() asked { return asIs(x.start.hold(t), x.start.n) })
 	}
 }

@@ -12,6 +12,9 @@ import (
 	"patchbay/turn"
 )
 
+// gateOf tells the gate of a thread of a free run: none, or one that lets others run.
+var gateOf = plays.Gates(runtime.Gosched)
+
 // run is a meter that is used freely.
 type run struct {
 	t     *testing.T
@@ -64,7 +67,7 @@ func TestP133FreeTakes(t *testing.T) {
 		x := &run{t: t, meter: made(t, b)}
 		flows := b.Den/b.Num + 1 // ticks in which a token flows in, about
 		plays.Freely(t, threads, func(k int) {
-			g, last := plays.GateOf(i, k), uint64(0)
+			g, last := gateOf(i, k), uint64(0)
 			for j := 0; j < each && !x.wrong.Load(); j++ {
 				now := uint64(j+k) * flows
 				if j%7 == k%7 {
@@ -89,7 +92,7 @@ func TestP134FreeTakesAtOneTick(t *testing.T) {
 		now := []uint64{0, 12345, api.MaxTick}[i%3]
 		var none atomic.Bool
 		plays.Freely(t, 2+i%7, func(k int) {
-			g, left := plays.GateOf(i, k), b.Burst
+			g, left := gateOf(i, k), b.Burst
 			for j := uint64(0); !x.wrong.Load(); j++ {
 				ended, n := none.Load(), 1+j*uint64(k)%3
 				ok := x.take(g, k, take(now, n))
@@ -141,7 +144,7 @@ func TestP134FreeTakesOfOneClock(t *testing.T) {
 		x := &run{t: t, meter: made(t, b)}
 		var clock atomic.Uint64
 		plays.Freely(t, 2+i%5, func(k int) {
-			g := plays.GateOf(i, k)
+			g := gateOf(i, k)
 			for now := clock.Load(); now <= ticks && !x.wrong.Load(); now = clock.Load() {
 				if !x.take(g, k, take(now, 1)) {
 					clock.CompareAndSwap(now, now+1)
@@ -164,7 +167,7 @@ func TestP133FreeTakesAllAtOnce(t *testing.T) {
 		}
 		come, took := make([]atomic.Int64, meters), make([]atomic.Int64, meters)
 		plays.Freely(t, threads, func(k int) {
-			g := plays.GateOf(i, k)
+			g := gateOf(i, k)
 			for j, m := range list {
 				come[j].Add(1)
 				for come[j].Load() < threads {
@@ -212,7 +215,7 @@ type yieldingNotes struct{ notes *turn.Notes }
 
 func (y yieldingNotes) Step(m api.Mark) {
 	y.notes.Step(m)
-	plays.Yielding{}.Step(m)
+	plays.Yielding(runtime.Gosched).Step(m)
 }
 
 func TestP134FreeAnswersAreThoseOfAnOrder(t *testing.T) {
@@ -223,6 +226,6 @@ func TestP134FreeAnswersAreThoseOfAnOrder(t *testing.T) {
 		{0, slow(), nil, [][]ask{one(take(0, 3)), one(level(0), state()), one(take(20, 1))}},
 		{0, of(1, 1, 4), nil, [][]ask{one(take(0, 2)), one(take(1, 3)), one(take(2, 2))}},
 	} {
-		plays.AsOfAnOrder(t, 1000, plays.GateOf, x.asks, func() asked { return asIs(made(t, x.bucket, x.ahead...)) })
+		plays.AsOfAnOrder(t, 1000, gateOf, x.asks, func() asked { return asIs(made(t, x.bucket, x.ahead...)) })
 	}
 }

@@ -19,7 +19,7 @@ func TestYielding(t *testing.T) {
 				t.Errorf("%d: the other one has not run", k)
 				return
 			}
-			Yielding{}.Step(api.Mark{})
+			Yielding(runtime.Gosched).Step(api.Mark{})
 		}
 	})
 	if e != api.OK {
@@ -27,15 +27,23 @@ func TestYielding(t *testing.T) {
 	}
 }
 
-func TestGateOf(t *testing.T) {
+func TestGates(t *testing.T) {
 	const threads = 6
-	for run := range 12 {
+	yields := 0
+	gateOf := Gates(func() { yields++ })
+	var nones [12]int // which threads have none, as bits
+	for run := range nones {
 		yielding := 0
 		for k := range threads {
-			switch GateOf(run, k) {
+			switch g := gateOf(run, k).(type) {
 			case nil:
-			case Yielding{}:
+				nones[run] |= 1 << k
+			case Yielding:
 				yielding++
+				ahead := yields
+				if g.Step(Load(k)); yields != ahead+1 {
+					t.Errorf("%d, %d: a step yields %d times", run, k, yields-ahead)
+				}
 			default:
 				t.Errorf("%d, %d: it is neither", run, k)
 			}
@@ -44,7 +52,7 @@ func TestGateOf(t *testing.T) {
 			t.Errorf("%d: %d yield, not %d", run, yielding, want)
 		}
 	}
-	if GateOf(1, 0) == GateOf(3, 0) && GateOf(1, 1) == GateOf(3, 1) {
+	if nones[1] == nones[3] {
 		t.Error("in all runs the same ones yield")
 	}
 }

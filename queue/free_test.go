@@ -10,6 +10,9 @@ import (
 	"patchbay/plays"
 )
 
+// gateOf tells the gate of a thread of a free run: none, or one that lets others run.
+var gateOf = plays.Gates(runtime.Gosched)
+
 // run is a queue that is used freely: some threads put values in, the others take them out.
 type run struct {
 	queue  *Queue
@@ -115,7 +118,7 @@ func TestP75FreeManyAndMany(t *testing.T) {
 			r := &run{queue: made(t, x.n), each: 8000 / uint64(x.putters), one: x.putters+x.takers == 2}
 			lists := make([][]uint64, x.takers)
 			plays.Freely(t, x.putters+x.takers, func(k int) {
-				if g := plays.GateOf(round+i, k); k < x.putters {
+				if g := gateOf(round+i, k); k < x.putters {
 					r.putAll(t, k, g)
 				} else {
 					lists[k-x.putters] = r.takeAll(t, int64(x.putters), g)
@@ -140,7 +143,7 @@ func TestP75FreePutsAlone(t *testing.T) {
 		var said [8][]bool
 		plays.Freely(t, len(said), func(k int) {
 			for j := range uint64(n) {
-				ok, _ := q.Put(plays.GateOf(i, k), value(k, j))
+				ok, _ := q.Put(gateOf(i, k), value(k, j))
 				said[k] = append(said[k], ok)
 			}
 		})
@@ -169,7 +172,7 @@ func TestP75FreeTakesAlone(t *testing.T) {
 		var took [8][]uint64
 		plays.Freely(t, len(took), func(k int) {
 			for range n {
-				took[k] = append(took[k], ask{kind(1 + (i+k)%2), 0}.of(q, plays.GateOf(i, k)).took...)
+				took[k] = append(took[k], ask{kind(1 + (i+k)%2), 0}.of(q, gateOf(i, k)).took...)
 			}
 		})
 		for _, list := range took {
@@ -188,7 +191,7 @@ func TestP75FreeWhatIsLeft(t *testing.T) {
 		q := made(t, n)
 		var in, out [8][]uint64
 		plays.Freely(t, len(in), func(k int) {
-			g := plays.GateOf(i, k)
+			g := gateOf(i, k)
 			for j := range uint64(4000) {
 				if ok, _ := q.Put(g, value(k, j)); ok {
 					in[k] = append(in[k], value(k, j))
@@ -224,7 +227,7 @@ func TestP72FreeAnswersAreThoseOfAnOrder(t *testing.T) {
 		{standing(2, 0), [][]ask{puts(5, 6), takes(2)}},
 		{standing(2, top, 3, 4), [][]ask{drains(1), puts(5)}},
 	} {
-		plays.AsOfAnOrder(t, 2000, plays.GateOf, x.asks, func() asked { return asIs(madeOf(t, x.words)) })
+		plays.AsOfAnOrder(t, 2000, gateOf, x.asks, func() asked { return asIs(madeOf(t, x.words)) })
 	}
 }
 
@@ -236,7 +239,7 @@ func TestP76FreeCallsEnd(t *testing.T) {
 		plays.Freely(t, 8, func(k int) {
 			for j := range uint64(calls) {
 				for _, a := range []ask{{doPut, j + 1}, {doTake, 0}, {doDrain, 0}} {
-					got := a.of(q, plays.GateOf(i, k))
+					got := a.of(q, gateOf(i, k))
 					if got.e != api.OK || len(got.took) > n || slices.Contains(got.took, 0) || a.kind == doTake && got.ok != (len(got.took) == 1) {
 						t.Errorf("%v: %v", a, got)
 					}

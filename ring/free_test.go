@@ -85,7 +85,7 @@ func (x *run) look(t *testing.T, g api.Gate, all uint64) {
 
 // gatesOfTwo are all ways in which one that puts and one that takes are held up, or not.
 func gatesOfTwo() [][2]api.Gate {
-	return [][2]api.Gate{{nil, nil}, {nil, plays.Yielding{}}, {plays.Yielding{}, nil}, {plays.Yielding{}, plays.Yielding{}}}
+	return [][2]api.Gate{{nil, nil}, {nil, plays.Yielding(runtime.Gosched)}, {plays.Yielding(runtime.Gosched), nil}, {plays.Yielding(runtime.Gosched), plays.Yielding(runtime.Gosched)}}
 }
 
 func TestP63FreeOneAndOne(t *testing.T) {
@@ -178,7 +178,7 @@ func TestP64FreeLensBesidePutsAlone(t *testing.T) {
 	x := &run{ring: made(t, api.MaxSlots)}
 	plays.Freely(t, 3, func(k int) {
 		if k == 0 {
-			x.putAll(t, plays.Yielding{}, 0, api.MaxSlots)
+			x.putAll(t, plays.Yielding(runtime.Gosched), 0, api.MaxSlots)
 			return
 		}
 		for last := 0; last < api.MaxSlots && !x.wrong.Load(); {

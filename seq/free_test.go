@@ -1,6 +1,7 @@
 package seq_test
 
 import (
+	"runtime"
 	"slices"
 	"testing"
 
@@ -25,7 +26,7 @@ func free(t *testing.T, body func(k int)) {
 // gateOf is none for all but a few threads.
 func gateOf(k int) api.Gate {
 	if k%4 == 3 {
-		return plays.Yielding{}
+		return plays.Yielding(runtime.Gosched)
 	}
 	return nil
 }

@@ -10,6 +10,9 @@ import (
 	"patchbay/plays"
 )
 
+// gateOf tells the gate of a thread of a free run: none, or one that lets others run.
+var gateOf = plays.Gates(runtime.Gosched)
+
 // numberOf is the i-th number of a thread.
 func numberOf(k, i int) uint64 { return uint64(k)<<32 | uint64(i) }
 
@@ -101,7 +104,7 @@ func TestP84FreeWhatIsLeft(t *testing.T) {
 		x := &run{stack: made(t, n)}
 		var in, out [8][]uint64
 		plays.Freely(t, len(in), func(k int) {
-			g := plays.GateOf(i, k)
+			g := gateOf(i, k)
 			for j := 0; j < 4000 && !x.wrong.Load(); j++ {
 				if x.push(t, g, numberOf(k, j)) {
 					in[k] = append(in[k], numberOf(k, j))
@@ -131,7 +134,7 @@ func TestP84FreeManyAndMany(t *testing.T) {
 			var ended atomic.Int64
 			in, out := make([][]uint64, x.pushers), make([][]uint64, x.poppers)
 			plays.Freely(t, x.pushers+x.poppers, func(k int) {
-				g := plays.GateOf(i+round, k)
+				g := gateOf(i+round, k)
 				if k < x.pushers {
 					defer ended.Add(1)
 					for len(in[k]) < each && !r.wrong.Load() {
@@ -167,7 +170,7 @@ func TestP84FreePushesAlone(t *testing.T) {
 		var in [8][]uint64
 		plays.Freely(t, len(in), func(k int) {
 			for j := range n {
-				if x.push(t, plays.GateOf(i, k), numberOf(k, j)) {
+				if x.push(t, gateOf(i, k), numberOf(k, j)) {
 					in[k] = append(in[k], numberOf(k, j))
 				}
 			}
@@ -189,7 +192,7 @@ func TestP84FreePopsAlone(t *testing.T) {
 		var out [8][]uint64
 		plays.Freely(t, len(out), func(k int) {
 			for range n {
-				if v, ok := x.pop(t, plays.GateOf(i, k)); ok {
+				if v, ok := x.pop(t, gateOf(i, k)); ok {
 					out[k] = append(out[k], v)
 				}
 			}
@@ -217,6 +220,6 @@ func TestP84FreeAnswersAreThoseOfAnOrder(t *testing.T) {
 		{standing(1, 3), [][]ask{pops(1), pops(2)}},
 		{standing(1), [][]ask{pushes(5, 6), pushes(7)}},
 	} {
-		plays.AsOfAnOrder(t, 1000, plays.GateOf, x.asks, func() asked { return asIs(madeOf(t, x.words)) })
+		plays.AsOfAnOrder(t, 1000, gateOf, x.asks, func() asked { return asIs(madeOf(t, x.words)) })
 	}
 }

@@ -11,6 +11,9 @@ import (
 	"patchbay/tally"
 )
 
+// gateOf tells the gate of a thread of a free run: none, or one that lets others run.
+var gateOf = plays.Gates(runtime.Gosched)
+
 // run is a tally that is used freely, and what is known of it beside.
 type run struct {
 	t     *testing.T
@@ -86,7 +89,7 @@ func TestP114FreeSums(t *testing.T) {
 			x := begin(t, y.shards)
 			var ended atomic.Int64
 			plays.Freely(t, y.adders+y.lookers, func(k int) {
-				g := plays.GateOf(i+round, k)
+				g := gateOf(i+round, k)
 				if k >= y.adders {
 					last := zeros(y.shards)
 					for ended.Load() < int64(y.adders) && !x.wrong.Load() {
@@ -113,7 +116,7 @@ func TestP114FreeAddsOfOne(t *testing.T) {
 		x := made(t, n)
 		var got [8][3][]uint64
 		plays.Freely(t, len(got), func(k int) {
-			g := plays.GateOf(i, k)
+			g := gateOf(i, k)
 			for j := range each {
 				shard := (j + k) % n
 				v, _ := x.Add(g, shard, 1)
@@ -147,7 +150,7 @@ func TestP114FreeSumsThatGoRound(t *testing.T) {
 		x := made(t, 4)
 		var added [8][4]uint64
 		plays.Freely(t, len(added), func(k int) {
-			g := plays.GateOf(i, k)
+			g := gateOf(i, k)
 			for j := range 2000 {
 				n := top / uint64(1+(j*k)%9)
 				x.Add(g, (j+k)%4, n)
@@ -192,7 +195,7 @@ func TestP114FreeHists(t *testing.T) {
 			all = append(all, numbersOf(kind, k, each)...)
 		}
 		plays.Freely(t, threads+1, func(k int) {
-			g := plays.GateOf(i, k)
+			g := gateOf(i, k)
 			if k == threads {
 				for last := (api.Hist{}); ended.Load() < int64(threads); {
 					last = rises(t, last, get().of(x, g))
@@ -233,7 +236,7 @@ func TestP114FreeGreatest(t *testing.T) {
 		x := filled(t)
 		var wrong atomic.Bool
 		plays.Freely(t, 8, func(k int) {
-			g := plays.GateOf(i, k)
+			g := gateOf(i, k)
 			for _, v := range numbersOf(0, k, 1000) {
 				x.Add(g, v)
 				if h, e := x.Get(g); (e != api.OK || h.Max < v || h.Counts[bitsOf(v)] == 0) && !wrong.Swap(true) {
@@ -253,7 +256,7 @@ func TestP114FreeHistsAllAtOnce(t *testing.T) {
 			list[j] = filled(t)
 		}
 		plays.Freely(t, threads, func(k int) {
-			g := plays.GateOf(i, k)
+			g := gateOf(i, k)
 			for j, x := range list {
 				come[j].Add(1)
 				for come[j].Load() < threads {
@@ -276,13 +279,13 @@ func TestP114FreeAnswersAreThoseOfAnOrder(t *testing.T) {
 		{0, 3, []uint64{1, 2, top}, [][]ask{one(add(0, 5), add(2, 1)), one(add(1, 2), add(2, 2)), one(sum())}},
 		{0, 2, nil, [][]ask{one(add(0, 5), sum()), one(add(1, 7), sum())}},
 	} {
-		plays.AsOfAnOrder(t, 500, plays.GateOf, x.asks, func() asked { return asIs(made(t, x.n, x.ahead...)) })
+		plays.AsOfAnOrder(t, 500, gateOf, x.asks, func() asked { return asIs(made(t, x.n, x.ahead...)) })
 	}
 	for _, x := range []histPlay{
 		{0, nil, [][]come{comes(5), comes(9)}},
 		{0, []uint64{3}, [][]come{comes(3, 4), comes(5)}},
 		{0, nil, [][]come{comes(top), comes(top)}},
 	} {
-		plays.AsOfAnOrder(t, 500, plays.GateOf, x.asks, func() askedHist { return histIs(filled(t, x.ahead...)) })
+		plays.AsOfAnOrder(t, 500, gateOf, x.asks, func() askedHist { return histIs(filled(t, x.ahead...)) })
 	}
 }
